@@ -1,0 +1,1 @@
+"""Docketloom: a court's docket."""
