@@ -1,7 +1,7 @@
 """Calendars, and the kinds of days."""
 
 from docketloom.civil import MONTHS, month_days
-from docketloom.days import LAST_DAY, check_day, is_day
+from docketloom.days import END, check_day, is_day
 from docketloom.errors import NotThere, OutOfRange
 from docketloom.names import is_ascending, is_number, is_one_of, is_tuple
 from docketloom.openings import Openings
@@ -103,7 +103,7 @@ def open_days(calendar, first, behind):
 def next_open(calendar, day):
     """The first open day from the day on."""
     check_day(day)
-    found = Openings(calendar).find("open", day, LAST_DAY + 1, 1)
+    found = Openings(calendar).find("open", day, END, 1)
     if found is None:
         raise NotThere("no open day from this day on")
     return found

@@ -4,6 +4,8 @@ from docketloom.errors import OutOfRange
 from docketloom.names import is_number
 
 LAST_DAY = 1000000
+# The day behind all days, which is none itself.
+END = 1000001
 WEEK = 7
 # The day 0 is a Saturday.
 FIRST_WEEKDAY = 5

@@ -1,7 +1,7 @@
 """The kinds of the days of one calendar, worked out where they are asked for and kept."""
 
 from docketloom.civil import easter, length_of, number_at, year_of
-from docketloom.days import LAST_DAY, runs_of, weekday_of
+from docketloom.days import END, runs_of, weekday_of
 
 # Days are kept by blocks of so many, so that terms which begin close together share the work.
 BLOCK = 64
@@ -62,7 +62,7 @@ class Openings:
     def _block(self, which, number):
         """The days of a block that are open, or those that are not at rest."""
         if number not in self._blocks:
-            days = range(number * BLOCK, min((number + 1) * BLOCK, LAST_DAY + 1))
+            days = range(number * BLOCK, min((number + 1) * BLOCK, END))
             kinds = [(day, self.kind(day)) for day in days]
             self._blocks[number] = {
                 "open": [day for day, kind in kinds if kind == "open"],

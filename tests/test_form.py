@@ -220,7 +220,7 @@ class Form(unittest.TestCase):
                 if isinstance(node, ast.Compare):
                     for sign, side in zip(node.ops, node.comparators):
                         if isinstance(sign, (ast.Is, ast.IsNot)):
-                            asked = isinstance(node.left, ast.Call) and node.left.func.id == "type"
+                            asked = isinstance(node.left, ast.Call) and getattr(node.left.func, "id", "") == "type"
                             plain = isinstance(side, ast.Constant) and side.value in (None, True, False)
                             self.assertTrue(asked or plain, self.at(path, node))
                 if isinstance(node, ast.Call) and isinstance(node.func, ast.Name) and node.func.id == "type":
