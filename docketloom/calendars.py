@@ -45,7 +45,7 @@ def is_mark(value):
         return False
     if value[0] == "feast":
         return len(value) == 2 and is_number(value[1], -FARTHEST_FEAST, FARTHEST_FEAST)
-    if len(value) < 3 or not is_number(value[1], 1, MONTHS):
+    if not is_number(value[1], 1, MONTHS):
         return False
     if value[0] == "date":
         return len(value) == 3 and is_number(value[2], 1, month_days(SOME_LEAP_YEAR, value[1]))

@@ -92,7 +92,7 @@ def write(fraction):
 
 def read(text):
     """The fraction, within the bounds for what is handed in, whose writing the text is."""
-    if type(text) is not str or len(text) > LONGEST_WRITING:
+    if len(text) > LONGEST_WRITING:
         raise Malformed("no writing of a fraction")
     part, slash, whole = text.partition("/")
     if slash == "":

@@ -159,7 +159,7 @@ class Scene:
             self._stays[number] = kept[0]
         for cause in self._causes.values():
             for owed in cause.owed:
-                if owed.closed is None and number in owed.stayed_by:
+                if number in owed.stayed_by:
                     owed.is_reckoned = False
         return STANDS
 
@@ -171,9 +171,7 @@ class Scene:
         owed.begin(day, found)
 
     def _close(self, owed, word, number):
-        """Makes a duty done, late or void by a filing; its last day stays what it is now."""
-        if owed.start is not None:
-            self._due(owed)
+        """Makes a duty, whose state was just asked for, done, late or void; its last day stays what it is now."""
         owed.closed = word
         owed.closed_by = number
 

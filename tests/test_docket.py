@@ -87,6 +87,15 @@ class Entering(unittest.TestCase):
         self.check(Refused, 10, 10, ("amend", 1, 5))
         self.check(Refused, 10, 10, ("amend", 2, 5))
 
+    def test_entered_in_order(self):
+        docket = made()
+        docket.enter(10, 5, FILE)
+        with self.assertRaises(Refused):
+            docket.enter(9, 5, FILE)
+        docket.enter(10, 5, FILE)
+        docket.enter(11, 5, FILE)
+        self.assertEqual([entered for _, entered, _, _ in docket.entries()], [10, 10, 11])
+
     def test_which_error_comes_first(self):
         self.check(OutOfRange, -1, 10, None)
         self.check(OutOfRange, 10, -1, ("file", "one", "ann", "reply"))

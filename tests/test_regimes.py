@@ -253,6 +253,8 @@ class Starts(unittest.TestCase):
         regimes = two("old", LONG, SHORT)
         self.assertEqual(least_inversion(regimes, "month", 60, 160), (86, 100))
         self.assertEqual(least_inversion(regimes, "month", 90, 120), (90, 100))
+        self.assertEqual(least_inversion(regimes, "month", 90, 100), (90, 100))
+        self.assertEqual(least_inversion(regimes, "month", 99, 100), (99, 100))
         self.assertIsNone(least_inversion(regimes, "month", 60, 99))
         self.assertIsNone(least_inversion(regimes, "month", 100, 200))
         self.assertIsNone(least_inversion(regimes, "month", 99, 99))

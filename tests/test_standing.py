@@ -352,6 +352,11 @@ class Scenes(unittest.TestCase):
         self.assertEqual(stage.play(1, 100), "stands")
         self.assertEqual(stage.filings("one"), [(1, "claim")])
 
+    def test_day_nought(self):
+        made = docket(book(CLAIM), (0, BEGIN), (0, file("ann", "claim")), (0, served()))
+        self.assertEqual(word_list(made, 0), ["stands"] * 3)
+        self.assertEqual(scene(made, 0, 0).duties("one", 0), [(1, "bob", "answer", "open", 0, 10, None)])
+
     def test_at_first(self):
         stage = Scene(docket(book(CLAIM)))
         self.assertEqual((stage.causes(), stage.stays()), ([], []))

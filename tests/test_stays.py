@@ -469,6 +469,15 @@ class Regimes(unittest.TestCase):
         self.assertIsNone(last_day(("new", rolled), stays, 90, "month"))
         self.assertEqual(last_day(("new", rolled), (rests(95, 120),), 90, "month"), 120)
 
+    def test_a_later_step_may_stand_still(self):
+        rows = ((0, (NONE, (("month", (10, "days", "next", "no", 0)),))),
+                (95, (NONE, (("month", (30, "days", "next", "no", 0)),))))
+        stays = (rests(110, None),)
+        self.assertEqual(last_day(("old", rows), stays, 90, "month"), 100)
+        self.assertIsNone(last_day(("kind", rows), stays, 90, "month"))
+        self.assertIsNone(last_day(("new", rows), stays, 90, "month"))
+        self.assertIsNone(last_day(("kind", (rows[0], (95, rows[0][1]), (96, rows[1][1]))), stays, 90, "month"))
+
     def test_in_time(self):
         regimes = ("old", ((0, (NONE, (("month", (5, "days", "next", "no", 0)),))),))
         stays = (rests(12, None),)

@@ -1,0 +1,66 @@
+"""The names, arguments and classes that the interface lists, in the files under which it lists them."""
+
+import importlib
+import inspect
+import unittest
+
+FUNCTIONS = {
+    "names": ("is_name(value)", "is_number(value, least, most)", "is_names(value, least, most)"),
+    "parts": ("is_fraction(value)", "made(part, whole)", "plus(one, other)", "minus(one, other)", "times(one, other)",
+              "through(one, other)", "less(one, other)", "rounded(fraction, way)", "write(fraction)", "read(text)",
+              "dealt(amount, weights)"),
+    "lines": ("is_word(value)", "line_of(words)", "words_of(line)", "number_word(number)", "number_of(word)",
+              "read_sheet(text)", "write_sheet(rows)"),
+    "days": ("is_day(value)", "weekday(day)"),
+    "civil": ("is_leap(year)", "month_days(year, month)", "date_of(day)", "day_of(year, month, day)",
+              "months_later(day, months)", "easter(year)"),
+    "calendars": ("is_calendar(value)", "kind_of(calendar, day)", "open_days(calendar, first, behind)",
+                  "next_open(calendar, day)", "last_open(calendar, day)", "same_kinds(calendar, other, first, behind)"),
+    "terms": ("is_rule(value)", "last_day(calendar, rule, start)", "paper_of(calendar, rule, start)",
+              "shows_last(calendar, rule, start, paper)", "last_start(calendar, rule, day)",
+              "first_start(calendar, rule, day)"),
+    "regimes": ("is_regimes(value)", "regime_at(regimes, day)", "rule_at(regimes, day, word)",
+                "last_by(regimes, start, word)", "history(regimes, start, word)",
+                "is_in_time(regimes, start, word, day)", "starts_in_time(regimes, word, day, low)",
+                "least_inversion(regimes, word, low, high)"),
+    "kinds": ("is_duty_rule(value)", "is_kind(value)", "is_parties(value)", "is_deed(value)"),
+    "rulebook": ("is_rule_book(value)", "duty_rule(book, duty)", "kind_rule(book, kind)", "roles_of(book)"),
+    "docket": ("docket_of(book, regimes, entries)",),
+    "standing": ("scene(docket, d, k)", "words(docket, d, k)"),
+    "stays": ("is_stay(value)", "is_stays(value)", "touching(stays, cause, party)", "state_of(stays, day)",
+              "union_of(stays)", "lifted(stays, number, day)"),
+    "running": ("last_under(calendar, rule, stays, start)", "paper_under(calendar, rule, stays, start)",
+                "shows_under(calendar, rule, stays, start, paper)", "left_on(calendar, rule, stays, start, day)",
+                "last_day(regimes, stays, start, word)", "is_in_time(regimes, stays, start, word, day)",
+                "starts_in_time(regimes, stays, word, day, low)"),
+}
+CLASSES = {
+    ("docket", "Docket"): ("__init__(self, book, regimes)", "enter(self, entered, held, deed)", "entries(self)",
+                           "rows(self, k)", "struck(self, k)"),
+    ("standing", "Scene"): ("__init__(self, docket)", "play(self, number, day)", "causes(self)",
+                            "is_ended(self, cause)", "filings(self, cause)", "duties(self, cause, d)", "stays(self)"),
+}
+
+
+class Interface(unittest.TestCase):
+    def check(self, told, found, module):
+        self.assertEqual(told, told.partition("(")[0] + str(inspect.signature(found)))
+        self.assertEqual(found.__module__, module)
+
+    def test_functions(self):
+        for stem, rows in FUNCTIONS.items():
+            module = importlib.import_module("docketloom." + stem)
+            for told in rows:
+                self.check(told, getattr(module, told.partition("(")[0]), module.__name__)
+
+    def test_classes(self):
+        for (stem, name), rows in CLASSES.items():
+            found = getattr(importlib.import_module("docketloom." + stem), name)
+            self.assertEqual(found.__module__, "docketloom." + stem)
+            for told in rows:
+                # The method stands in the class itself.
+                self.check(told, vars(found)[told.partition("(")[0]], "docketloom." + stem)
+
+
+if __name__ == "__main__":
+    unittest.main()
