@@ -32,6 +32,8 @@ class Almanac:
         self._firsts = [first for first, _ in regimes[1]]
         self._openings = [Openings(regime[0]) for _, regime in regimes[1]]
         self._rules = [{word: rule for word, rule in regime[1]} for _, regime in regimes[1]]
+        # The last days that were told: a docket asks for the same ones again and again.
+        self._lasts = {}
 
     def _holding(self, day):
         """The index of the regime that holds on a day."""
@@ -67,7 +69,10 @@ class Almanac:
 
     def last(self, stayed, start, word):
         """The last day of a term, or None if it stands still; raises NotThere."""
-        return self.steps(stayed, start, word)[-1][1]
+        key = (stayed, start, word)
+        if key not in self._lasts:
+            self._lasts[key] = self.steps(stayed, start, word)[-1][1]
+        return self._lasts[key]
 
     def is_in_time(self, stayed, start, word, day):
         """True if an act on the day is in time; raises NotThere."""

@@ -46,35 +46,53 @@ class Scene:
 
     def _act(self, number, day, deed):
         """Plays a row by which something is done to a party in a cause, or by it."""
-        cause = self._causes.get(deed[1])
-        if cause is None:
-            return "absent"
-        if cause.is_over:
-            return "ended"
-        if deed[2] not in cause.roles:
-            return "stranger"
+        word = self._missing(deed[1], deed[2])
+        if word is not None:
+            return word
+        cause = self._causes[deed[1]]
         if deed[0] == "file":
             return self._file(cause, number, day, deed)
         if deed[0] == "served":
             return self._serve(cause, day, deed)
         return self._give_leave(cause, day, deed)
 
+    def _missing(self, name, party):
+        """The word of a row of a party in a cause, if for this cause or this party it is idle; otherwise None."""
+        cause = self._causes.get(name)
+        if cause is None:
+            return "absent"
+        if cause.is_over:
+            return "ended"
+        return None if party in cause.roles else "stranger"
+
     def _file(self, cause, number, day, deed):
         """Plays a filing."""
         _, _, party, kind = deed
-        _, roles, needs, does, opens, _, ends = kind_rule(self._docket.book, kind)
-        if cause.roles[party] not in roles:
-            return "role"
-        if self._is_barred(cause, kind):
-            return "barred"
-        if not all(self._holds(cause, need, day) for need in needs):
-            return "needs"
+        word = self._filing_word(cause, party, kind, day)
+        if word != STANDS:
+            return word
+        _, _, _, does, opens, _, ends = kind_rule(self._docket.book, kind)
         self._do(cause, number, day, party, does)
         self._open(cause, number, day, party, opens)
         cause.filed.append((number, kind))
         if ends:
             self._end(cause, number, day)
         return STANDS
+
+    def _filing_word(self, cause, party, kind, day):
+        """The word of a filing in a cause that is not ended, by a party of it."""
+        _, roles, needs, _, _, _, _ = kind_rule(self._docket.book, kind)
+        if cause.roles[party] not in roles:
+            return "role"
+        if self._is_barred(cause, kind):
+            return "barred"
+        return STANDS if all(self._holds(cause, need, day) for need in needs) else "needs"
+
+    def would_stand(self, cause, party, kind, day):
+        """True if a filing would stand as the next row, on a day that is not before that of the last row."""
+        if self._missing(cause, party) is not None:
+            return False
+        return self._filing_word(self._causes[cause], party, kind, day) == STANDS
 
     def _is_barred(self, cause, kind):
         """True if a filing that stands in the cause bars the kind."""

@@ -13,6 +13,26 @@ EXAMPLES = '''
 >>> from docketloom.lines import read_sheet
 >>> read_sheet("file a 12\\n\\n# a remark\\nfile  b 7\\nhear a")
 ([(1, ['file', 'a', '12']), (5, ['hear', 'a'])], [(2, 'blank'), (4, 'space')])
+>>> from docketloom.loose import course_to, dead_course
+>>> book = ((("answer", "month", 0),), (("claim", ("plaintiff",), (("free", "claim"),), (), (("answer", "defendant"),), (), False), ("defence", ("defendant",), (("filed", "claim"),), ("answer",), (), ("defence",), False), ("ruling", ("court",), (("lapsed", "answer"),), (), (), (), True)))
+>>> course_to(book, "ruling")
+[('file', 'plaintiff', 'claim'), ('serve', 'defendant', 'answer'), ('pass', 'defendant', 'answer'), ('file', 'court', 'ruling')]
+>>> dead_course(book)
+[('file', 'plaintiff', 'claim'), ('file', 'defendant', 'defence')]
+>>> from docketloom.appeals import Matter
+>>> from docketloom.finality import becomes_final, endings, is_final, may_end
+>>> regimes = ("old", ((0, (((), (), (), ()), (("ten", (10, "days", "next", "no", 0)), ("two", (2, "days", "next", "no", 0))))),))
+>>> matter = Matter((("ten",), "two", 0), (("debt", "", 0), ("costs", "debt", 1)), (1, 1), regimes, ())
+>>> matter.judge(100, "debt", 1), matter.judge(105, "costs", 0)
+('judged', 'judged')
+>>> is_final(matter, 111, "debt"), may_end(matter, 111, "debt") == {0: 2, 1: 0}, may_end(matter, 111, "costs") == {0: 0, 1: 1, None: 2}
+(False, True, True)
+>>> endings(matter, 116), becomes_final(matter, 105, "debt"), becomes_final(matter, 105, "costs")
+({(1, 0): 0}, 116, 116)
+>>> from docketloom.bills import clearing, owed
+>>> bill = (36500, 10, ((20, 100), (30, 40)))
+>>> owed(bill, ((0, (1, 10)),), "interest", 30), clearing(bill, ((0, (1, 10)),), "interest", 30)
+(((36500, 1), (60, 1), (0, 1)), 36560)
 '''
 
 

@@ -197,7 +197,15 @@ class Form(unittest.TestCase):
             self.assertNotIn(node.attr, NOT_USED, where)
             if isinstance(node.ctx, ast.Store):
                 self.assertNotIn(node.attr, OF_VALUES, where)
-                self.assertNotIn(node.attr, self.methods, where)
+        for path, node in self.each(ast.ClassDef):
+            methods = {part.name for part in node.body if isinstance(part, ast.FunctionDef)}
+            for part in ast.walk(node):
+                if isinstance(part, ast.Attribute) and isinstance(part.ctx, ast.Store) and part.value.id == "self":
+                    self.assertNotIn(part.attr, methods, f"{path.name} {part.attr}")
+        for path, node in self.each(ast.Call):
+            # A method of this name is iterated on the spot, as that of a dict.
+            if isinstance(node.func, ast.Attribute) and node.func.attr in ("items", "keys", "values"):
+                self.assertNotIn(node.func.attr, self.methods, self.at(path, node))
         for path, node in self.each(ast.Call):
             if isinstance(node.func, ast.Attribute):
                 self.assertIn(node.func.attr, METHODS | self.methods, self.at(path, node))
