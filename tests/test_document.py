@@ -33,6 +33,19 @@ EXAMPLES = '''
 >>> bill = (36500, 10, ((20, 100), (30, 40)))
 >>> owed(bill, ((0, (1, 10)),), "interest", 30), clearing(bill, ((0, (1, 10)),), "interest", 30)
 (((36500, 1), (60, 1), (0, 1)), 36560)
+>>> from docketloom.nets import groups, payments
+>>> debts = [("ann", "bob", 5), ("bob", "cid", 5), ("dan", "eve", 2)]
+>>> groups(debts), payments(debts)
+([('ann', 'cid'), ('dan', 'eve')], [('ann', 'cid', 5), ('dan', 'eve', 2)])
+>>> from docketloom.wheels import deal, full_state, run_wheel
+>>> wheel = (("ann", 2), ("bob", 1))
+>>> deal(wheel, (0, 1), ("bob",), 3)
+('ann', (1, 2))
+>>> run_wheel(wheel, [("one", (), 2), ("two", (), 5), ("three", ("ann",), 0)])
+([('one', (), 2, 'bob'), ('two', (), 5, 'ann'), ('three', ('ann',), 0, 'bob')], (3, 0))
+>>> from docketloom.chances import chances, tail
+>>> chances(wheel, (1, 1), ()), tail(wheel, [(), ()], "bob", 1)
+((('ann', (1, 2)), ('bob', (1, 2))), (2, 3))
 '''
 
 

@@ -10,13 +10,13 @@ FOLDER = pathlib.Path(__file__).resolve().parent.parent / "docketloom"
 FILES = sorted(FOLDER.rglob("*.py"))
 # A doctest that ran before may have left a builtin "_".
 ALL_BUILTINS = set(dir(builtins)) - {"_"}
-LIBRARY = {"math": {"gcd"}}
+LIBRARY = {"math": {"gcd", "lcm"}}
 BUILTINS = set("""len range enumerate zip min max sum abs sorted reversed int str bool list tuple dict set isinstance ord
 repr any all divmod ValueError KeyError type""".split())
 METHODS = set("""append clear copy count endswith extend find get index insert isalnum isalpha isdigit islower isspace
 isupper items join keys ljust lower lstrip partition pop remove replace reverse rfind rjust rpartition rsplit rstrip
 setdefault split splitlines startswith strip update upper values zfill bit_length removeprefix removesuffix add
-discard""".split())
+discard isascii translate maketrans""".split())
 NOT_USED = set("""mro elements open input law version_info with_traceback add_note register attrgetter breakpoint builtins
 compile copyright credits delattr dir eval exec exit gc getattr globals hasattr help id importlib license locals
 methodcaller os quit setattr super vars sys""".split())

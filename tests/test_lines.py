@@ -159,5 +159,106 @@ class Sheets(unittest.TestCase):
             self.assertEqual(good, [(at + 1, row) for at, row in enumerate(rows)])
 
 
+def plain_read(text):
+    """Point 9 row by row and sign by sign."""
+    good, bad = [], []
+    rows = text.split("\n")
+    if rows[-1] == "":
+        rows = rows[:-1]
+    for number, row in enumerate(rows, 1):
+        words = row.split(" ")
+        if row[:1] == "#":
+            continue
+        if row == "":
+            bad.append((number, "blank"))
+        elif any(sign != " " and sign not in SIGNS for sign in row):
+            bad.append((number, "sign"))
+        elif row[0] == " " or row[-1] == " " or "  " in row:
+            bad.append((number, "space"))
+        elif len(words) > 20 or any(len(word) > 40 for word in words):
+            bad.append((number, "long"))
+        else:
+            good.append((number, words))
+    return good, bad
+
+
+class LargestSheets(unittest.TestCase):
+    def test_words_of_forty_signs(self):
+        row = ["a" * 40] * 20
+        text = write_sheet([row] * 121)
+        self.assertEqual(text, (" ".join(row) + "\n") * 121)
+        self.assertEqual(read_sheet(text), ([(number, row) for number in range(1, 122)], []))
+        # 99220 signs, and rows of 780 signs that come to 100000, or one more.
+        rest = ["b" * 40] * 18 + ["c" * 40]
+        self.assertEqual(len(write_sheet([row] * 121 + [rest])), 99999)
+        longer = ["b" * 40] * 18 + ["c" * 20, "d" * 20]
+        self.assertEqual(len(write_sheet([row] * 121 + [longer])), 100000)
+        self.assertEqual(write_sheet([row] * 121 + [longer])[99220:], " ".join(longer) + "\n")
+        with self.assertRaises(TooMuch):
+            write_sheet([row] * 121 + [["b" * 40] * 18 + ["c" * 20, "d" * 21]])
+        with self.assertRaises(Malformed):
+            write_sheet([row] * 121 + [["b" * 41]])
+        with self.assertRaises(Malformed):
+            write_sheet([row] * 130 + [["b" * 40] * 21])
+        with self.assertRaises(Refused):
+            write_sheet([row] * 130 + [["#" * 40]])
+
+    def test_empty_rows(self):
+        text = "\n" * 99631 + ("a" * 40 + "\n") * 9
+        self.assertEqual(len(text), 100000)
+        good, bad = read_sheet(text)
+        self.assertEqual(good, [(number, ["a" * 40]) for number in range(99632, 99641)])
+        self.assertEqual(bad, [(number, "blank") for number in range(1, 99632)])
+        with self.assertRaises(TooMuch):
+            read_sheet(text + "a")
+        with self.assertRaises(TooMuch):
+            read_sheet("\n" + text)
+        good, bad = read_sheet("\n" * 100000)
+        self.assertEqual((good, len(bad), bad[-1]), ([], 100000, (100000, "blank")))
+        with self.assertRaises(TooMuch):
+            read_sheet("\n" * 100001)
+
+    def test_rows_of_twenty_words(self):
+        text = (("a" * 40 + " ") * 19 + "b\n") * 128
+        expected = [(number, ["a" * 40] * 19 + ["b"]) for number in range(1, 129)]
+        self.assertEqual(read_sheet(text), (expected, []))
+        more = text + "c" * (100000 - len(text))
+        self.assertEqual(read_sheet(more), (expected + [(129, ["c" * 32])], []))
+        with self.assertRaises(TooMuch):
+            read_sheet(more + "c")
+        self.assertEqual(read_sheet(text + "!"), (expected, [(129, "sign")]))
+        self.assertEqual(read_sheet(text + "\u00e9\na"), (expected + [(130, ["a"])], [(129, "sign")]))
+
+    def test_words_with_something_inside(self):
+        for bad in (" ", "\n", "a b", "a\nb", "a\n", " a", "A", "a\t", "\u00e9", "a" * 41, "", None, ["a"], 7, b"a", True):
+            for rows in ([["a", bad]], [["a"], [bad], ["b"]], [["a", "b"], ["c", bad, "d"]]):
+                with self.assertRaises(Malformed, msg=bad):
+                    write_sheet(rows)
+        with self.assertRaises(Malformed):
+            write_sheet([["a", "b"], ["c d"], []])
+
+    def test_gaps(self):
+        for many in (0, 1, 2, 498, 499, 500, 501, 998, 999, 1000, 1001, 1499, 1500, 1501, 2600):
+            for ahead in ("", "a", "a b", "!", "#", " "):
+                for behind in ("", "a", "a  b", "#x", "\n" * 500 + "z\n", "b\n\nc"):
+                    text = ahead + "\n" * many + behind
+                    self.assertEqual(read_sheet(text), plain_read(text), (ahead, many, behind))
+
+    def test_against_the_plain_way(self):
+        dice = random.Random(90)
+        pieces = ["a", "b1", "-", "#", " ", " ", "  ", "\n", "\n", "\n\n\n", "a" * 40, "x" * 41, "A", "!", "\t", "\r", "\x0b",
+                  "\u00e9", "\u2028", "q " * 19, "q " * 20 + "q", "0", "=", "\n" * 499, "\n" * 500, "\n" * 1200, "\u0660"]
+        for clean in (True, False):
+            told = [piece for piece in pieces if not clean or all(sign in SIGNS + " \n" for sign in piece)]
+            for _ in range(400):
+                text = "".join(dice.choices(told, k=dice.randint(0, 40)))
+                self.assertEqual(read_sheet(text), plain_read(text))
+
+    def test_each_sign(self):
+        for code in list(range(0, 0x250)) + [0x2028, 0x660, 0xff10, 0x1d7ce]:
+            for text in (chr(code), "b" + chr(code) + "c", "a\nb" + chr(code) + "c\nd"):
+                self.assertEqual(read_sheet(text), plain_read(text))
+
+
 if __name__ == "__main__":
     unittest.main()
