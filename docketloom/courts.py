@@ -1,5 +1,6 @@
 """How the heads of a matter stand, and the moves by which this changes."""
 
+from docketloom.almanac import is_up_to
 from docketloom.days import check_day
 from docketloom.errors import Malformed, NotThere, OutOfRange, Refused
 from docketloom.names import is_name, is_number, is_one_of, is_tuple
@@ -30,11 +31,6 @@ class Clock:
     def answer_ends(self, start):
         """The last day, or None, of an answering appeal."""
         return self.last(self._answer, start)
-
-
-def is_up_to(day, start, last):
-    """True if the day is in time for a start, by a last day or None."""
-    return start <= day and (last is None or day <= last)
 
 
 class Standing:
@@ -73,7 +69,7 @@ class Course:
         other.filed = list(self.filed)
         return other
 
-    def check_day(self, day):
+    def check_move_day(self, day):
         """Raises OutOfRange if the value is no day, or before the day of the last move."""
         check_day(day)
         if len(self.made) > 0 and day < self.made[-1][0]:
@@ -87,7 +83,7 @@ class Course:
 
     def judge(self, day, head, result):
         """Judges a head, and returns the word of the judgment."""
-        self.check_day(day)
+        self.check_move_day(day)
         if not is_number(result, 0, 1):
             raise Malformed("no result")
         held = self.standing(head)
@@ -118,17 +114,18 @@ class Course:
 
     def appeal_word(self, day, head):
         """Why a head may be appealed on the day: "time" or "answer"; "" if it may not."""
-        self.check_day(day)
+        self.check_move_day(day)
         held = self.standing(head)
         if held.result is None or held.level >= self.top or self.allowed[1 - held.result] == 0:
             return ""
         return self.time_word(day, head, held)
 
     def time_word(self, day, head, held):
-        """By which term an appeal of a head that is judged below the top is in time on the day."""
-        if is_up_to(day, held.day, self.clock.appeal_ends(held.level, held.day)):
+        """By which term an appeal of a head that is judged below the top is in time on the day; "" if by none."""
+        # No move is made ahead of the last one, so the day is not before any start.
+        if is_up_to(day, self.clock.appeal_ends(held.level, held.day)):
             return "time"
-        if any([is_up_to(day, start, self.clock.answer_ends(start)) for start in self.answer_starts(head, held)]):
+        if any([is_up_to(day, self.clock.answer_ends(start)) for start in self.answer_starts(head, held)]):
             return "answer"
         return ""
 
@@ -139,7 +136,7 @@ class Course:
 
     def send(self, day, head):
         """Sends a head back."""
-        self.check_day(day)
+        self.check_move_day(day)
         held = self.standing(head)
         if held.result is not None or held.level == 0 or held.sent >= self.sends:
             raise Refused("the head may not be sent back")

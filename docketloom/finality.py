@@ -8,7 +8,7 @@ from docketloom.outlook import Outlook
 
 def outlook_from(matter, day):
     """The outlook of the matter from the day on. Raises OutOfRange if it is no day, or before the last move."""
-    matter.course.check_day(day)
+    matter.course.check_move_day(day)
     return Outlook(matter.course, day)
 
 
@@ -25,7 +25,7 @@ def endings(matter, day):
 
 def may_end(matter, day, head):
     """A dict with the price of each value that the head has in some ending."""
-    matter.course.check_day(day)
+    matter.course.check_move_day(day)
     at = index_of(matter, head)
     found = {}
     for ending, price in endings(matter, day).items():
@@ -40,8 +40,7 @@ def is_final(matter, day, head):
 
 def becomes_final(matter, day, head):
     """The day on which the head becomes final from the day on, or None."""
-    matter.course.check_day(day)
-    index_of(matter, head)
+    matter.course.check_move_day(day)
     for turn in turning_days(matter.course, day):
         if is_final(matter, turn, head):
             return turn
@@ -69,7 +68,7 @@ def is_value(value):
 
 def way_to(matter, day, head, value):
     """A cheapest way from the day on behind which the head has the value, or None."""
-    matter.course.check_day(day)
+    matter.course.check_move_day(day)
     at = index_of(matter, head)
     if not is_value(value):
         return None
@@ -78,7 +77,7 @@ def way_to(matter, day, head, value):
 
 def way_to_ending(matter, day, ending):
     """A cheapest way from the day on to the ending, or None."""
-    matter.course.check_day(day)
+    matter.course.check_move_day(day)
     if not is_tuple(ending, len(matter.heads), len(matter.heads)) or not all(is_value(item) for item in ending):
         return None
     return outlook_from(matter, day).way(lambda other: other == ending, day)
@@ -100,7 +99,7 @@ def behind_way(matter, day, way):
 
 def is_way(matter, day, way):
     """True if the value, of any kind, is a way from the day on."""
-    matter.course.check_day(day)
+    matter.course.check_move_day(day)
     try:
         behind_way(matter, day, way)
     except DocketError:

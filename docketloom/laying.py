@@ -57,7 +57,7 @@ class Laying:
         """The last day on which an open or overdue duty stands as it does; None if there is none."""
         role, duty, live, _, _ = row
         last = self._lasts[(role, duty)]
-        if live == "open" or last is None:
+        if live == "open":
             return last
         grace = self._loose.graces[duty]
         return None if grace is None else last + grace

@@ -126,7 +126,7 @@ def read_sheet(text):
         number += len(rows)
         # The first line feed of a gap ends the row ahead of it, and each other one an empty row.
         behind = number + LONG_GAP - 1
-        bad.extend(list(zip(range(number, behind), [BLANK] * (LONG_GAP - 1))))
+        bad.extend(list(zip(range(number, behind), [BLANK] * LONG_GAP)))
         number = behind
     rows = parts[-1].split("\n")
     # Behind a last line feed no further row begins, and the empty text has none.

@@ -7,12 +7,13 @@ from docketloom.routing import Network
 
 def is_lowering(debts, left):
     """True if what is left, of any kind, is a lowering of the debts."""
-    if type(left) is not list or not all(is_transfer(item) for item in left) or not is_ascending(left):
+    if type(left) is not list or not all(is_transfer(item) for item in left):
         return False
     amounts = {(debtor, creditor): amount for debtor, creditor, amount in debts}
-    pairs = [(debtor, creditor) for debtor, creditor, _ in left]
-    # Ascending triples may still have one pair twice.
-    if not is_ascending(pairs) or not all(amount <= amounts.get((one, other), 0) for one, other, amount in left):
+    # So each pair is there once.
+    if not is_ascending([(one, other) for one, other, _ in left]):
+        return False
+    if not all(amount <= amounts.get((one, other), 0) for one, other, amount in left):
         return False
     return balances(left) == balances(debts)
 

@@ -64,7 +64,7 @@ class Outlook:
             if code == KEPT:
                 held = self._held[at]
                 side = 1 - held.result
-                if held.level < self._top and (self._in_time[at] or (held.level, held.result) in opened):
+                if self._in_time[at] or (held.level, held.result) in opened:
                     self._add_appeal(found, state, at, held.level, held.sent, side)
             elif is_worth:
                 level = code // 2

@@ -31,14 +31,12 @@ def is_full(rows, seating):
 
 def place(bench, day, hearings):
     """A placing, or None."""
-    check_day(day)
     rows, seating = seated(bench, day, hearings)
     return told_part(rows, seating) if is_full(rows, seating) else None
 
 
 def lack(bench, day, hearings):
     """A lack, or None."""
-    check_day(day)
     rows, seating = seated(bench, day, hearings)
     return None if is_full(rows, seating) else cut_names(rows, seating)
 
@@ -50,21 +48,18 @@ def cut_names(rows, seating):
 
 def most_part(bench, day, hearings):
     """A part placing whose hearings have the most slots together."""
-    check_day(day)
     rows, seating = seated(bench, day, hearings)
     return told_part(rows, seating)
 
 
 def most_set(bench, day, hearings):
     """The names of hearings for which their supply and the demand of all others are least."""
-    check_day(day)
     rows, seating = seated(bench, day, hearings)
     return cut_names(rows, seating)
 
 
 def rooms_of(bench, day, hearings, value):
     """The list of the triples (slot, hearing, room) by which the rooms are given out."""
-    check_day(day)
     if not is_part(bench, day, hearings, value):
         raise Malformed("no part placing")
     found = []

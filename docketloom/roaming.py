@@ -148,7 +148,8 @@ class Roads:
         alive = {state: True for state in self.states if self._ways_out[state]}
         left = list(alive)
         while len(left) > 0:
-            for state in self._before[left.pop()]:
+            behind = left.pop()
+            for state in self._before[behind]:
                 if state not in alive:
                     alive[state] = True
                     left.append(state)

@@ -55,7 +55,8 @@ class Network:
                         told[end] = price
                         came[end] = arc
                         is_changed = True
-        ends = [(told[at], at) for at, surplus in enumerate(self._surplus) if surplus < 0 and told[at] is not None]
+        # What is missing somewhere can always come from somewhere: at first by the edges as they are, in full.
+        ends = [(told[at], at) for at, surplus in enumerate(self._surplus) if surplus < 0]
         if len(ends) == 0:
             return None
         road = []

@@ -319,6 +319,13 @@ class InTime(unittest.TestCase):
         told.appeal(5, "costs")
         told.judge(6, "debt", 1)
         self.assertEqual([told.can_appeal(day, "debt") for day in (6, 7)], ["time", ""])
+        # By an appeal of the head itself, ahead of its being sent back.
+        told = matter(told=regimes(ten=(1, "days", "day", "no", 0), two=(30, "days", "next", "no", 0)))
+        told.judge(5, "debt", 0)
+        self.assertEqual(told.appeal(5, "debt"), 1)
+        told.send(5, "debt")
+        told.judge(5, "debt", 1)
+        self.assertEqual([told.can_appeal(day, "debt") for day in (5, 6)], ["time", ""])
         # On the day of the judgment it counts.
         told = matter(told=regimes(ten=(1, "days", "day", "no", 0), two=(30, "days", "next", "no", 0)))
         told.judge(5, "costs", 0)

@@ -404,6 +404,16 @@ class Windows(unittest.TestCase):
         self.assertEqual(self.told(made, "xlapsed", 50), [(50, None)])
         self.assertEqual(self.told(made, "xlapsed", LAST), [(LAST, None)])
 
+    def test_windows_over_rows_and_changes(self):
+        # In each of the windows there are rows, and days on which the duty is overdue, that change nothing.
+        made = docket(self.RULES, (5, BEGIN), (10, file("ann", "claim")), (12, file("bob", "defence")), (14, file("ann", "claim")),
+                      (15, file("cid", "claim")), (20, served()), (25, file("ann", "xopen")), (26, leave(40)), (35, OTHER),
+                      (50, file("ann", "claim")), (55, file("ann", "note")), (60, served()), (62, file("ann", "note")))
+        self.assertEqual(self.told(made, "xwaiting"), [(10, 12), (14, 20), (50, 60)])
+        self.assertEqual(self.told(made, "xopen"), [(20, 41), (60, 71)])
+        self.assertEqual(self.told(made, "note"), [(5, None)])
+        self.assertEqual(self.told(made, "xdone"), [(12, None)])
+
     def test_who_and_whether(self):
         made = docket(self.RULES, (5, BEGIN), (30, file("ann", "finis")))
         self.assertEqual(self.told(made, "note"), [(5, 30)])
@@ -431,6 +441,12 @@ class Windows(unittest.TestCase):
         self.assertEqual(self.told(made, "xopen"), [(999990, None)])
         made = docket(self.RULES, (LAST, BEGIN))
         self.assertEqual(self.told(made, "note"), [(LAST, None)])
+        made = docket(self.RULES, (5, BEGIN), (LAST, file("ann", "finis")))
+        self.assertEqual(self.told(made, "note"), [(5, LAST)])
+        self.assertEqual(self.told(made, "note", LAST), [])
+        made = docket(self.RULES, (5, BEGIN), (10, file("ann", "claim")), (999984, served()))
+        self.assertEqual(self.told(made, "xoverdue"), [(999995, LAST)])
+        self.assertEqual(self.told(made, "xlapsed"), [(LAST, None)])
 
     def test_a_full_docket(self):
         made = docket(self.RULES, (5, BEGIN), *[(6, file("ann", "claim")) for _ in range(499)])

@@ -67,7 +67,8 @@ class Benches(unittest.TestCase):
                       bench(rooms=("a", "a")), bench(("",)), bench(rooms=("A",)), bench(hours=None), bench(room_hours=()),
                       ((("ann", nine, FULL),), ()), ((("ann", ("b", "a"), FULL),), ()), ((("ann", ["a"], FULL),), ()),
                       ((("ann", FULL),), ()), ((), (("one", (), FULL),)), ([], ()), ((), []), [(), ()], ((),), ((), (), ()),
-                      ((["ann", (), FULL],), ()), ((), (["one", FULL],)), None):
+                      ((["ann", (), FULL],), ()), ((), (["one", FULL],)), ((("ann", (), FULL, 0),), ()),
+                      ((), (("one", FULL, 0),)), None):
             self.assertIs(is_bench(value), False, value)
 
     def test_any_kind(self):
@@ -175,6 +176,12 @@ class Parts(unittest.TestCase):
             with self.assertRaises(Malformed):
                 rooms_of(self.BENCH, 5, self.ROWS, value)
 
+    def test_a_slot_that_cannot_be_used(self):
+        rows = [("a", "ann", 2, 1, 4)]
+        for slots, answer in (((1, 3), True), ((0,), False), ((4,), False), ((3, 4), False), ((0, 1), False)):
+            self.assertIs(is_part(self.BENCH, 5, rows, [("a", slots)]), answer)
+        self.assertIs(is_part((self.BENCH[0], ()), 5, rows, [("a", (1,))]), False)
+
     def test_one_thing_changed(self):
         for at, item in enumerate(self.PART):
             for value in mutants(item):
@@ -216,6 +223,8 @@ class Parts(unittest.TestCase):
         swapped = (self.BENCH[0], (("one", (ALL, 2, 6, ())), ("two", (ALL, 0, 6, ()))))
         self.assertEqual(rooms_of(swapped, 5, self.ROWS, self.PART)[:3], [(0, "a", "two"), (2, "a", "one"), (2, "b", "two")])
         self.assertEqual(rooms_of(bench(rooms=()), 5, [], []), [])
+        ends = (self.BENCH[0], (("one", (ALL, 0, 3, ())), ("two", (ALL, 0, 6, ()))))
+        self.assertEqual(rooms_of(ends, 5, [("b", "bob", 2, 0, 6)], [("b", (2, 3))]), [(2, "b", "one"), (3, "b", "two")])
 
 
 def all_sets(rows):

@@ -143,13 +143,41 @@ class Endings(unittest.TestCase):
     def test_sends_and_answers_from_above(self):
         # Only by being sent back and appealed again does the costs' head bring about the answering appeal.
         heads = PAIR
-        for sends, price in ((0, None), (1, 3)):
+        for sends, price in ((0, None), (1, 2)):
             told = matter(heads=heads, allowances=(1, 2), sends=sends)
             told.judge(5, "debt", 1)
             told.judge(5, "costs", 0)
             self.assertEqual(told.appeal(5, "costs"), 1)
             # Behind the 10 days of the debt's term, and the 2 days for answering.
-            self.assertEqual(may_end(told, 50, "debt"), {1: 0} if price is None else {1: 0, 0: price - 1})
+            self.assertEqual(may_end(told, 50, "debt"), {1: 0} if price is None else {1: 0, 0: price})
+            way = way_to(told, 50, "debt", 0)
+            if price is None:
+                self.assertIsNone(way)
+            else:
+                self.assertIs(is_way(told, 50, way), True)
+                self.assertEqual([row[1:3] for row in way if row[1] != "judge"],
+                                 [("send", "costs"), ("appeal", "costs"), ("appeal", "debt")])
+
+    def test_sent_back_once(self):
+        # From the level 2 the costs come down to the level 1 only.
+        told = matter(heads=PAIR, allowances=(2, 2), levels=3, sends=1)
+        told.judge(5, "debt", 1)
+        told.judge(5, "costs", 0)
+        told.appeal(5, "costs")
+        told.judge(5, "costs", 1)
+        told.appeal(5, "costs")
+        self.assertEqual((told.left(), told.state("costs")[0]), ((1, 1), 2))
+        self.assertEqual(may_end(told, 50, "debt"), {1: 0})
+
+    def test_becomes_final_behind_the_answer(self):
+        told = matter(heads=PAIR)
+        told.judge(5, "debt", 1)
+        told.judge(14, "costs", 0)
+        self.assertEqual(told.appeal(20, "costs"), 1)
+        # The side 0 can answer up to the day 22.
+        self.assertEqual([is_final(told, day, "debt") for day in (20, 22, 23)], [False, False, True])
+        self.assertEqual([becomes_final(told, day, "debt") for day in (20, 22, 23, 24)], [23, 23, 23, 24])
+        self.assertIsNone(becomes_final(told, 20, "costs"))
 
     def test_errors(self):
         told = matter()
@@ -168,6 +196,13 @@ class Endings(unittest.TestCase):
                 with self.assertRaises(NotThere):
                     ask(5, "none")
             ask(5, "debt")
+        for ending in ((), None, (2, 2)):
+            with self.assertRaises(OutOfRange):
+                way_to_ending(told, 4, ending)
+        with self.assertRaises(OutOfRange):
+            way_to(told, 4, "debt", True)
+        with self.assertRaises(NotThere):
+            way_to(told, 5, "none", True)
         self.assertEqual(told.moves(), moves)
         # Without a move, each day will do.
         self.assertEqual(len(endings(matter(), 0)), 3)
@@ -384,6 +419,9 @@ class Ways(unittest.TestCase):
             self.assertIs(is_way(told, 5, bad), False, bad)
             with self.assertRaises(Malformed):
                 ending_of(told, bad)
+        first = [(0, "judge", "costs", 1), (0, "judge", "debt", 1)]
+        self.assertEqual(ending_of(matter(heads=PAIR), first), (1, 1))
+        self.assertIs(is_way(matter(heads=PAIR), 0, first), True)
         told.judge(20, "costs", 1)
         self.assertIs(is_way(told, 20, []), True)
         self.assertEqual(ending_of(told, []), (1, 1))

@@ -296,8 +296,12 @@ class Search(unittest.TestCase):
             first = {}
             first_dead = None
             longest = 0
-            for course, state in courses(rules, 6, 3000):
+            seen = set()
+            for course, state in courses(rules, 6, 1500):
                 longest = max(longest, len(course))
+                if state in seen:
+                    continue
+                seen.add(state)
                 for name in state[0]:
                     first.setdefault(name, course)
                 if first_dead is None and dead(told, state):

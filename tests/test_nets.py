@@ -246,6 +246,9 @@ class Lowerings(unittest.TestCase):
             self.assertIs(is_lowering(self.ROUND, bad), False, bad)
             self.assertIs(shows(self.ROUND, bad, self.PRICES), False)
         self.assertIs(is_lowering([], []), True)
+        # Nobody comes to owe to somebody to whom nothing was owed.
+        self.assertIs(is_lowering([("ann", "bob", 1), ("bob", "cid", 1)], [("ann", "cid", 1)]), False)
+        self.assertIs(is_lowering([("ann", "bob", 2)], [("ann", "bob", 1), ("ann", "bob", 1)]), False)
         for value in ODD:
             self.assertIs(is_lowering(self.ROUND, value), False)
             self.assertIs(is_lowering(self.ROUND, [value]), False)

@@ -339,8 +339,35 @@ class Tails(unittest.TestCase):
         self.assertEqual(tail(wheel, [()] * 8, "a", 0), (1, 1))
         with self.assertRaises(TooMuch):
             tail(wheel, [()] * 9, "a", 0)
+        # Just 3000 of them are not too many, and one more is.
+        for weights, rows, many in (
+                ((6, 4, 4, 6, 4, 1, 2, 3), ["eh", "abcefgh", "", "", "", "", "", "", "bcefgh"], 3000),
+                ((1, 2, 2, 4, 6, 3, 6, 5), ["f", "acefgh", "", "dh", "", "bcdefh", "", "", ""], 3001)):
+            told = tuple(zip("abcdefgh", weights))
+            barred_rows = [tuple(row) for row in rows]
+            self.assertEqual(self.count(told, barred_rows), many)
+            self.assertEqual(tail(told, barred_rows, "a", 0), (1, 1))
+            if many > 3000:
+                with self.assertRaises(TooMuch):
+                    tail(told, barred_rows + [()], "a", 0)
+            else:
+                self.assertEqual(tail(told, barred_rows + [()], "a", 0), (1, 1))
         # Barred judges make it fewer states.
         self.assertEqual(tail(wheel, [()] * 7 + [("b", "c", "d", "e", "f", "g", "h")] * 5, "a", 5), (1, 1))
+
+
+    def count(self, wheel, rows):
+        """The number of the states that are possible behind causes with these barred judges."""
+        states = {full_state(wheel)}
+        for barred in rows:
+            able = [at for at, (judge, _) in enumerate(wheel) if judge not in barred]
+            behind = set()
+            for state in states:
+                if not any(state[at] for at in able):
+                    state = tuple(held + weight for held, (_, weight) in zip(state, wheel))
+                behind |= {state[:at] + (state[at] - 1,) + state[at + 1:] for at in able if state[at]}
+            states = behind
+        return len(states)
 
 
 if __name__ == "__main__":
