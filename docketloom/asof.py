@@ -36,8 +36,8 @@ def grounds(docket, cause, opened, party, duty, d, k):
 def needed_rows(docket, rows, told, cause, d):
     """What is left of the rows when each time the last one without which the same is told was left out."""
     kept = list(rows)
-    # Each row that was found to be needed, with the rows that were idle when it was left out: such a row may be left
-    # out as well without that it makes a difference there, so that this one need not be tried again.
+    # Each row that was found to be needed, with the rows that were idle when it was left out. If one of these is left
+    # out for good, nothing changes there: the row is still needed, and need not be tried again.
     needed = {}
     at = len(kept) - 1
     while at >= 0:
@@ -150,8 +150,9 @@ def stretches(docket, stage, cause, first, behind):
     bounds = {first: True}
     for _, _, duty, _, _, last, _ in stage.duties(cause, first):
         _, _, grace = duty_rule(docket.book, duty)
-        for turn in () if last is None else (last + 1, last + 1 + (0 if grace is None else grace)):
-            if first < turn < behind:
-                bounds[turn] = True
+        if last is not None:
+            for turn in (last + 1, last + 1 + (0 if grace is None else grace)):
+                if first < turn < behind:
+                    bounds[turn] = True
     starts = sorted(bounds)
     return [(start, stop) for start, stop in zip(starts, starts[1:] + [behind])]

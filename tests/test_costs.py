@@ -359,6 +359,17 @@ class Bills(unittest.TestCase):
                 principal, added, _ = owed((bill[0], bill[1], ahead + ((day, money),)), rates, way, day)
                 self.assertIs(principal == (0, 1) and added == (0, 1), is_clear)
 
+    def test_many_payments_and_rates(self):
+        dice = random.Random(1011)
+        rows = [(at * 29, fractions.Fraction(dice.randint(1, 9000), 10000 - at)) for at in range(20)]
+        rates = tuple((first, (rate.numerator, rate.denominator)) for first, rate in rows)
+        days = sorted(dice.randint(7, 600) for _ in range(30))
+        bill = (10 ** 7, 7, tuple((day, dice.choice((0, 1000, 10 ** 5, 10 ** 6))) for day in days))
+        self.assertIs(is_rates(rates) and is_bill(bill), True)
+        for way in ("interest", "principal"):
+            for day in (300, 650):
+                self.assertEqual(owed(bill, rates, way, day), PlainBill(bill, rates, way, day).told())
+
     def test_the_largest_bill(self):
         dice = random.Random(1010)
         rows = [(at * 49999, fractions.Fraction(dice.randint(1, 9000), 10000 - at)) for at in range(20)]
