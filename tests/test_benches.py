@@ -339,7 +339,7 @@ class Placings(unittest.TestCase):
             lacks = [names for names in all_sets(rows) if is_lack(told, day, rows, names)]
             self.assertIs(lack(told, day, rows) is None, lacks == [])
             fits += lacks == [] and len(rows) > 1
-        self.assertGreater(fits, 25)
+        self.assertGreater(fits, 10)
         self.assertLess(fits, 300)
 
     def test_large_lists(self):

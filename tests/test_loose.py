@@ -490,29 +490,26 @@ class Laid(unittest.TestCase):
         self.assertGreater(leaves, 20)
 
     def check_states(self, rules, told, course, deeds):
-        """Behind each deed, the docket stands as the loose state does."""
-        made = play(rules, told, deeds)
-        stage = Scene(made)
+        """Ahead of and behind the deed of each move, the docket stands as the loose state does."""
+        stage = Scene(play(rules, told, deeds))
         loose = Plain(rules)
         state = FIRST
-        at = 1
         stage.play(0, 0)
-        for move in course:
-            if move[0] == "pass":
-                state = loose.after(state, move)
-                continue
-            word = {"serve": "served"}.get(move[0], move[0])
-            # Ahead of a pass, others may have got leave.
-            while deeds[at][1][0] != word or deeds[at][1][2:4] != (move[1], move[2]) or (
-                    word == "leave" and deeds[at][1][4] != deeds[at][0]):
-                self.assertEqual(deeds[at][1][0], "leave")
-                stage.play(at, deeds[at][0])
+        at = 1
+        for many, move in enumerate(course, 1):
+            laid_now = laid(rules, told, course[:many])
+            self.assertEqual(laid_now, deeds[:len(laid_now)])
+            if move[0] != "pass":
+                self.assertEqual(len(laid_now), at + 1)
+                self.assertEqual(self.live(stage, deeds[at][0]), [row[:3] for row in state[1] if row[2]])
+            while at < len(laid_now):
+                if move[0] == "pass":
+                    self.assertEqual(deeds[at][1][0], "leave")
+                self.assertEqual(stage.play(at, deeds[at][0]), "stands")
                 at += 1
-            self.assertEqual(self.live(stage, deeds[at][0]), [row[:3] for row in state[1] if row[2]])
-            stage.play(at, deeds[at][0])
             state = loose.after(state, move)
-            self.assertEqual(self.live(stage, deeds[at][0]), [row[:3] for row in state[1] if row[2]])
-            at += 1
+            if move[0] != "pass":
+                self.assertEqual(self.live(stage, deeds[at - 1][0]), [row[:3] for row in state[1] if row[2]])
 
     def live(self, stage, day):
         return sorted(row[1:4] for row in stage.duties("trial", day) if row[3] in ("waiting", "open", "overdue"))

@@ -290,7 +290,7 @@ class Lowerings(unittest.TestCase):
     def test_against_all_lowerings(self):
         dice = random.Random(112)
         lowered = 0
-        for _ in range(150):
+        for _ in range(200):
             debts = random_plain(dice, dice.randint(2, 5), dice.randint(0, 7), 3)
             left, prices = least_lowering(debts)
             all_of_them = list(lowerings(debts))
