@@ -15,32 +15,30 @@ def loose_moves(book, state):
 
 def after(book, state, move):
     """The loose state behind a move."""
-    loose = Looseness(book)
-    if move not in loose.moves(state):
+    behind = Looseness(book).after(state, move)
+    if behind is None:
         raise Refused("no move in this state")
-    return loose.after(state, move)
+    return behind
 
 
 def reached_states(book):
     """The ascending list of the loose states that can be reached."""
-    return sorted(Roads(book).states)
+    return sorted([place.reached for place in Roads(book).places])
 
 
 def course_to(book, kind):
     """The first course at whose end the kind has been filed, or None."""
     kind_rule(book, kind)
-    roads = Roads(book)
-    for state in roads.states:
-        if kind in state[0]:
-            return roads.course_of(state)
+    for place in Roads(book).places:
+        if kind in place.reached[0]:
+            return place.road()
     return None
 
 
 def dead_course(book):
     """The first course to a dead end, or None."""
-    roads = Roads(book)
-    ends = roads.dead_ends()
-    return roads.course_of(ends[0]) if len(ends) > 0 else None
+    ends = Roads(book).dead_ends()
+    return ends[0].road() if len(ends) > 0 else None
 
 
 def states_ahead(loose, course):
@@ -50,10 +48,10 @@ def states_ahead(loose, course):
     state = FIRST_STATE
     found = []
     for move in course:
-        if move not in loose.moves(state):
-            raise Malformed("no loose course")
         found.append(state)
         state = loose.after(state, move)
+        if state is None:
+            raise Malformed("no loose course")
     return found
 
 

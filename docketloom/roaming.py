@@ -14,85 +14,125 @@ def with_duty(duties, role, duty, live, is_done, is_lapsed):
                   for row in duties])
 
 
+def does_hold(duties, word, name):
+    """True if a need for a duty holds."""
+    for _, duty, live, is_done, is_lapsed in duties:
+        if duty == name:
+            if live == word or (word == "done" and is_done) or (word == "lapsed" and is_lapsed):
+                return True
+    return False
+
+
 class Looseness:
-    """A rule book, made ready for loose moves."""
+    """A rule book, made ready for loose moves. What follows from the filed kinds and from the duties is kept."""
 
     def __init__(self, book):
         self.graces = {duty: grace for duty, _, grace in book[0]}
         self.words = {duty: word for duty, word, _ in book[0]}
-        self._kinds = book[1]
         self._rules = {rule[0]: rule for rule in book[1]}
+        self._filings = sorted([(role, rule[0]) for rule in book[1] for role in rule[1]])
+        self._allowed = {}
+        self._ready = {}
+        self._quiet = {}
+        self._behind = {}
 
-    def moves(self, state):
-        """The ascending list of the moves in a state."""
+    def steps(self, state):
+        """The list of the pairs (move, state behind it) in a state, ascending by the moves."""
         filed, duties, is_ended = state
         if is_ended:
             return []
-        found = [("file", role, kind) for kind, roles, needs, _, _, _, _ in self._kinds
-                 if self._may_be_filed(filed, duties, kind, needs) for role in roles]
-        for role, duty, live, _, _ in duties:
-            if live == "waiting":
-                found.append(("serve", role, duty))
-            elif live == "open":
-                found.append(("pass", role, duty))
-            elif live == "overdue":
-                found.append(("leave", role, duty))
-                if self.graces[duty] is not None:
-                    found.append(("pass", role, duty))
-        return sorted(found)
+        allowed = self._allowed_kinds(filed)
+        ready = self._ready_kinds(duties)
+        found = []
+        for role, kind in self._filings:
+            if kind in allowed and kind in ready:
+                behind = (allowed[kind], self._behind_filing(duties, role, kind), self._rules[kind][6])
+                found.append((("file", role, kind), behind))
+        # All other words are behind this one.
+        found.extend([(move, (filed, behind, False)) for move, behind in self._quiet_steps(duties)])
+        return found
 
-    def _may_be_filed(self, filed, duties, kind, needs):
-        """True if the kind is not barred, and its needs hold."""
-        if any(kind in self._rules[other][5] for other in filed):
-            return False
-        return all(self._holds(filed, duties, word, name) for word, name in needs)
-
-    def _holds(self, filed, duties, word, name):
-        """True if a need holds."""
-        if word in FILING_NEEDS:
-            return (name in filed) == (word == "filed")
-        if word == "done":
-            return any(is_done for _, duty, _, is_done, _ in duties if duty == name)
-        if word == "lapsed":
-            return any(is_lapsed for _, duty, _, _, is_lapsed in duties if duty == name)
-        return any(live == word for _, duty, live, _, _ in duties if duty == name)
+    def moves(self, state):
+        """The ascending list of the moves in a state."""
+        return [move for move, _ in self.steps(state)]
 
     def after(self, state, move):
-        """The state behind a move in a state."""
-        word, role, name = move
-        if word == "file":
-            return self._filed(state, role, name)
-        filed, duties, _ = state
-        for other, duty, live, is_done, is_lapsed in duties:
-            if other == role and duty == name:
-                if word == "pass":
-                    lapses = live == "overdue" or self.graces[name] == 0
-                    return (filed, with_duty(duties, role, name, "" if lapses else "overdue", is_done,
-                                             is_lapsed or lapses), False)
-                return (filed, with_duty(duties, role, name, "open", is_done, is_lapsed), False)
-        return state
+        """The state behind a move in a state; None if it is no move in it."""
+        for other, behind in self.steps(state):
+            if other == move:
+                return behind
+        return None
 
-    def _filed(self, state, role, kind):
-        """The state behind a filing."""
-        filed, duties, _ = state
-        _, _, _, does, _, _, ends = self._rules[kind]
+    def _allowed_kinds(self, filed):
+        """The kinds that are not barred, and whose needs for filings hold; each with the filed kinds behind it."""
+        if filed not in self._allowed:
+            barred = [kind for other in filed for kind in self._rules[other][5]]
+            found = {}
+            for kind, rule in self._rules.items():
+                needs = [(name in filed) == (word == "filed") for word, name in rule[2] if word in FILING_NEEDS]
+                if kind not in barred and all(needs):
+                    found[kind] = filed if kind in filed else tuple(sorted(filed + (kind,)))
+            self._allowed[filed] = found
+        return self._allowed[filed]
+
+    def _ready_kinds(self, duties):
+        """The kinds whose needs for duties hold."""
+        if duties not in self._ready:
+            found = {}
+            for kind, rule in self._rules.items():
+                if all([does_hold(duties, word, name) for word, name in rule[2] if word not in FILING_NEEDS]):
+                    found[kind] = True
+            self._ready[duties] = found
+        return self._ready[duties]
+
+    def _quiet_steps(self, duties):
+        """The list of the moves that are no filings, with the duties behind them."""
+        if duties not in self._quiet:
+            self._quiet[duties] = sorted(self._found_quiet_steps(duties))
+        return self._quiet[duties]
+
+    def _found_quiet_steps(self, duties):
+        """The moves that are no filings, in any order, with the duties behind them."""
+        found = []
+        for role, duty, live, is_done, is_lapsed in duties:
+            grace = self.graces[duty]
+            if live in ("waiting", "overdue"):
+                word = "serve" if live == "waiting" else "leave"
+                found.append(((word, role, duty), with_duty(duties, role, duty, "open", is_done, is_lapsed)))
+            if live == "open" and grace != 0:
+                found.append((("pass", role, duty), with_duty(duties, role, duty, "overdue", is_done, is_lapsed)))
+            elif live == "open" or (live == "overdue" and grace is not None):
+                found.append((("pass", role, duty), with_duty(duties, role, duty, "", is_done, True)))
+        return found
+
+    def _behind_filing(self, duties, role, kind):
+        """The duties behind a filing."""
+        key = (duties, role, kind)
+        if key not in self._behind:
+            self._behind[key] = self._found_behind_filing(duties, role, kind)
+        return self._behind[key]
+
+    def _found_behind_filing(self, duties, role, kind):
+        """The duties behind a filing: those that it does, then those that it opens, and the end of all."""
+        _, _, _, does, opens, _, ends = self._rules[kind]
+        if does == () and opens == () and not ends:
+            return duties
         rows = {(row[0], row[1]): row for row in duties}
         for duty in does:
             row = rows.get((role, duty))
             if row is not None and row[2] in LIVE:
                 rows[(role, duty)] = (role, duty, "", True, row[4])
-        for other, duty in self.opened(state, role, kind):
+        for other, duty in self.opened(duties, role, kind):
             _, _, _, is_done, is_lapsed = rows.get((other, duty), (other, duty, "", False, False))
             rows[(other, duty)] = (other, duty, "open" if other in (role, COURT) else "waiting", is_done, is_lapsed)
         if ends:
             rows = {key: (row[0], row[1], "", row[3], row[4]) for key, row in rows.items()}
-        kinds = filed if kind in filed else tuple(sorted(filed + (kind,)))
-        return (kinds, tuple(sorted(list(rows.values()))), ends)
+        return tuple(sorted(list(rows.values())))
 
-    def opened(self, state, role, kind):
+    def opened(self, duties, role, kind):
         """The pairs (role, duty) of the duties that a filing by a role opens."""
         _, _, _, does, opens, _, _ = self._rules[kind]
-        held = {(other, duty): True for other, duty, live, _, _ in state[1]
+        held = {(other, duty): True for other, duty, live, _, _ in duties
                 if live in LIVE and not (other == role and duty in does)}
         found = []
         for duty, asked in opens:
@@ -103,54 +143,64 @@ class Looseness:
         return found
 
 
+class Place:
+    """A loose state that can be reached."""
+
+    def __init__(self, state, came, move):
+        self.reached = state
+        # The place from where it was found first, and the move; None for the first state.
+        self.came = came
+        self.move = move
+        # The places from where it can be reached by a move that is no filing.
+        self.before = []
+        self.is_alive = False
+
+    def road(self):
+        """The first course to the state."""
+        moves = []
+        place = self
+        while place.came is not None:
+            moves.append(place.move)
+            place = place.came
+        return moves[::-1]
+
+
 class Roads:
     """All loose states that can be reached, in the order of the first courses to them."""
 
     def __init__(self, book):
         loose = Looseness(book)
-        self.states = [FIRST_STATE]
-        # How each state was found first: the state before it, and the move.
-        self._came = {FIRST_STATE: None}
-        self._ways_out = {}
-        # From where each state can be reached by a move that is no filing.
-        self._before = {FIRST_STATE: []}
+        first = Place(FIRST_STATE, None, None)
+        self.places = [first]
+        self._by_state = {FIRST_STATE: first}
         at = 0
-        while at < len(self.states):
-            self._go_out(loose, self.states[at])
+        while at < len(self.places):
+            place = self.places[at]
+            self._go_out(place, loose.steps(place.reached))
             at += 1
 
-    def _go_out(self, loose, state):
-        """Finds the states that follow a state."""
-        moves = loose.moves(state)
-        self._ways_out[state] = any(word == "file" for word, _, _ in moves)
-        for move in moves:
-            behind = loose.after(state, move)
-            if behind not in self._came:
-                if len(self.states) >= MOST_STATES:
+    def _go_out(self, place, steps):
+        """Takes in the states that follow a state."""
+        for move, state in steps:
+            behind = self._by_state.get(state)
+            if behind is None:
+                if len(self.places) >= MOST_STATES:
                     raise TooMuch("too many loose states")
-                self._came[behind] = (state, move)
-                self._before[behind] = []
-                self.states.append(behind)
-            if move[0] != "file":
-                self._before[behind].append(state)
-
-    def course_of(self, state):
-        """The first course to a state."""
-        moves = []
-        came = self._came[state]
-        while came is not None:
-            moves.append(came[1])
-            came = self._came[came[0]]
-        return moves[::-1]
+                behind = Place(state, place, move)
+                self._by_state[state] = behind
+                self.places.append(behind)
+            if move[0] == "file":
+                place.is_alive = True
+            else:
+                behind.before.append(place)
 
     def dead_ends(self):
-        """The list of the dead ends, in the order of the first courses to them."""
-        alive = {state: True for state in self.states if self._ways_out[state]}
-        left = list(alive)
+        """The list of the places that are dead ends, in the order of the first courses to them."""
+        left = [place for place in self.places if place.is_alive]
         while len(left) > 0:
             behind = left.pop()
-            for state in self._before[behind]:
-                if state not in alive:
-                    alive[state] = True
-                    left.append(state)
-        return [state for state in self.states if state not in alive and not state[2]]
+            for place in behind.before:
+                if not place.is_alive:
+                    place.is_alive = True
+                    left.append(place)
+        return [place for place in self.places if not place.is_alive and not place.reached[2]]
