@@ -33,7 +33,7 @@ class Laying:
             self._start(role, name)
         else:
             self._tell(("file", CAUSE, role, name))
-            for other, duty in self._loose.opened(state[1], role, name):
+            for other, duty in self._loose.opened_by(state[1], role, name):
                 if other in (role, COURT):
                     self._start(other, duty)
 

@@ -122,14 +122,14 @@ class Looseness:
             row = rows.get((role, duty))
             if row is not None and row[2] in LIVE:
                 rows[(role, duty)] = (role, duty, "", True, row[4])
-        for other, duty in self.opened(duties, role, kind):
+        for other, duty in self.opened_by(duties, role, kind):
             _, _, _, is_done, is_lapsed = rows.get((other, duty), (other, duty, "", False, False))
             rows[(other, duty)] = (other, duty, "open" if other in (role, COURT) else "waiting", is_done, is_lapsed)
         if ends:
             rows = {key: (row[0], row[1], "", row[3], row[4]) for key, row in rows.items()}
         return tuple(sorted(list(rows.values())))
 
-    def opened(self, duties, role, kind):
+    def opened_by(self, duties, role, kind):
         """The pairs (role, duty) of the duties that a filing by a role opens."""
         _, _, _, does, opens, _, _ = self._rules[kind]
         held = {(other, duty): True for other, duty, live, _, _ in duties
