@@ -46,6 +46,11 @@ EXAMPLES = '''
 >>> from docketloom.chances import chances, tail
 >>> chances(wheel, (1, 1), ()), tail(wheel, [(), ()], "bob", 1)
 ((('ann', (1, 2)), ('bob', (1, 2))), (2, 3))
+>>> from docketloom.bounds import Promise
+>>> from docketloom.demand import demand, first_lack, supply
+>>> promise = Promise(2, [((0, 1), 1, 3, 2), ((0, 1), 0, 1, 3)], (1, 4))
+>>> demand(promise, 2), supply(promise, 2), first_lack(promise)
+(4, 3, 2)
 '''
 
 
