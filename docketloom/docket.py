@@ -84,6 +84,25 @@ class Docket:
         """The list of the entries."""
         return list(self._entries)
 
+    def many(self):
+        """The number of the entries."""
+        return len(self._entries)
+
+    def cut(self, many):
+        """Takes all entries but the first ones back."""
+        self._entries = self._entries[:many]
+
+    def twin(self):
+        """Another docket with the same entries."""
+        other = Docket(self.book, self.regimes)
+        other.almanac = self.almanac
+        other.take(self._entries)
+        return other
+
+    def take(self, entries):
+        """Takes over the entries of another docket under the same rule book and regimes."""
+        self._entries = list(entries)
+
     def _known(self, k):
         """The list of the entries that were entered on the day k or earlier."""
         return [entry for entry in self._entries if entry[1] <= k]

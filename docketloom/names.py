@@ -45,10 +45,10 @@ def is_figures(text):
 
 
 def is_same(value, told):
-    """True if the value, of any kind, is the told one of numbers, texts, None and tuples of these."""
+    """True if the value, of any kind, is the told one of numbers, texts, None and tuples and lists of these."""
     # A plain == would take True for 1, also inside of tuples.
     if not type(value) is type(told):
         return False
-    if type(told) is tuple:
+    if type(told) in (tuple, list):
         return len(value) == len(told) and all([is_same(item, other) for item, other in zip(value, told)])
     return value == told
