@@ -23,22 +23,22 @@ def after(book, state, move):
 
 def reached_states(book):
     """The ascending list of the loose states that can be reached."""
-    return sorted([place.reached for place in Roads(book).places])
+    return sorted(Roads(book).states())
 
 
 def course_to(book, kind):
     """The first course at whose end the kind has been filed, or None."""
     kind_rule(book, kind)
-    for place in Roads(book).places:
-        if kind in place.reached[0]:
-            return place.road()
-    return None
+    roads = Roads(book)
+    at = roads.first_filed(kind)
+    return None if at is None else roads.road(at)
 
 
 def dead_course(book):
     """The first course to a dead end, or None."""
-    ends = Roads(book).dead_ends()
-    return ends[0].road() if len(ends) > 0 else None
+    roads = Roads(book)
+    at = roads.first_dead_end()
+    return None if at is None else roads.road(at)
 
 
 def states_ahead(loose, course):

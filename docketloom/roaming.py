@@ -3,6 +3,7 @@
 from docketloom.causes import LIVE
 from docketloom.errors import TooMuch
 from docketloom.kinds import COURT, FILING_NEEDS
+from docketloom.signs import Signs, is_ready
 
 FIRST_STATE = ((), (), False)
 MOST_STATES = 2000
@@ -143,64 +144,103 @@ class Looseness:
         return found
 
 
-class Place:
-    """A loose state that can be reached."""
-
-    def __init__(self, state, came, move):
-        self.reached = state
-        # The place from where it was found first, and the move; None for the first state.
-        self.came = came
-        self.move = move
-        # The places from where it can be reached by a move that is no filing.
-        self.before = []
-        self.is_alive = False
-
-    def road(self):
-        """The first course to the state."""
-        moves = []
-        place = self
-        while place.came is not None:
-            moves.append(place.move)
-            place = place.came
-        return moves[::-1]
+def can_begin(kinds):
+    """True if some kind can be filed at first, when none has been filed and no duty was opened."""
+    for rule in kinds:
+        if all([word == "free" for word, _ in rule[2]]):
+            return True
+    return False
 
 
 class Roads:
-    """All loose states that can be reached, in the order of the first courses to them."""
+    """All loose states that can be reached, as numbers, in the order of the first courses to them."""
 
     def __init__(self, book):
-        loose = Looseness(book)
-        first = Place(FIRST_STATE, None, None)
-        self.places = [first]
-        self._by_state = {FIRST_STATE: first}
+        # The states, each with the place in this order of the one from where it was found first, and the move.
+        self._places = [(0, None, None)]
+        if can_begin(book[1]):
+            self._signs = Signs(book)
+            self._find()
+
+    def _find(self):
+        """Finds all states."""
+        signs = self._signs
+        filings = signs.filings
+        places = self._places
+        known = {0: True}
         at = 0
-        while at < len(self.places):
-            place = self.places[at]
-            self._go_out(place, loose.steps(place.reached))
+        while at < len(places):
+            code = places[at][0]
+            if not code & signs.ended:
+                for role, kind, rule, filed, _, wide, once, needs in filings:
+                    if code & wide == filed and (not needs or is_ready(code, needs)):
+                        behind = code | once if once else signs.filed(code, role, rule)
+                        if behind not in known:
+                            known[behind] = True
+                            places.append((behind, at, ("file", role, kind)))
+                if code & signs.live:
+                    for move, bit, turned, added in signs.quiet():
+                        if code & bit:
+                            behind = (code ^ turned) | added
+                            if behind not in known:
+                                known[behind] = True
+                                places.append((behind, at, move))
+                if len(places) > MOST_STATES:
+                    raise TooMuch("too many loose states")
             at += 1
 
-    def _go_out(self, place, steps):
-        """Takes in the states that follow a state."""
-        for move, state in steps:
-            behind = self._by_state.get(state)
-            if behind is None:
-                if len(self.places) >= MOST_STATES:
-                    raise TooMuch("too many loose states")
-                behind = Place(state, place, move)
-                self._by_state[state] = behind
-                self.places.append(behind)
-            if move[0] == "file":
-                place.is_alive = True
-            else:
-                behind.before.append(place)
+    def states(self):
+        """The list of all states."""
+        if len(self._places) == 1:
+            return [FIRST_STATE]
+        return self._signs.states([code for code, _, _ in self._places])
 
-    def dead_ends(self):
-        """The list of the places that are dead ends, in the order of the first courses to them."""
-        left = [place for place in self.places if place.is_alive]
-        while len(left) > 0:
-            behind = left.pop()
-            for place in behind.before:
-                if not place.is_alive:
-                    place.is_alive = True
-                    left.append(place)
-        return [place for place in self.places if not place.is_alive and not place.reached[2]]
+    def road(self, at):
+        """The first course to the state with this place in the order."""
+        moves = []
+        while at > 0:
+            _, at, move = self._places[at]
+            moves.append(move)
+        return moves[::-1]
+
+    def first_filed(self, kind):
+        """The place of the first state in which the kind has been filed, or None."""
+        if len(self._places) == 1:
+            return None
+        bit = self._signs.bits[kind]
+        for at, (code, _, _) in enumerate(self._places):
+            if code & bit:
+                return at
+        return None
+
+    def _is_alive(self, code):
+        """True if a kind can be filed in the state."""
+        for _, _, _, filed, mask, _, _, needs in self._signs.filings:
+            if code & mask == filed and (not needs or is_ready(code, needs)):
+                return True
+        return False
+
+    def first_dead_end(self):
+        """The place of the first dead end, or None."""
+        if len(self._places) == 1:
+            return 0
+        ended = self._signs.ended
+        # The states in which nothing can be filed, with their places; those from which some other one follows go out.
+        still = {code: at for at, (code, _, _) in enumerate(self._places)
+                 if not code & ended and not self._is_alive(code)}
+        before = {}
+        alive = []
+        for code in still:
+            for _, bit, turned, added in self._signs.quiet() if code & self._signs.live else []:
+                if code & bit:
+                    behind = (code ^ turned) | added
+                    if behind in still:
+                        before.setdefault(behind, []).append(code)
+                    else:
+                        alive.append(code)
+        while len(alive) > 0:
+            code = alive.pop()
+            if still[code] is not None:
+                still[code] = None
+                alive.extend(before.get(code, []))
+        return min([at for at in still.values() if at is not None], default=None)

@@ -352,6 +352,66 @@ class Search(unittest.TestCase):
                          400 + 3 ** 2 * 2 ** 4)
 
 
+    def in_rows(self, sizes):
+        """The book without duties whose kinds stand in rows, each needing that the one ahead of it has been filed."""
+        signs = "abcdefghijklmnop"
+        return ((), tuple(kind(signs[row] + signs[place], ("court",), (("filed", signs[row] + signs[place - 1]),) if place else ())
+                          for row, size in enumerate(sizes) for place in range(size)))
+
+    def test_rows_of_kinds(self):
+        sizes = [4, 4, 4, 1, 1, 1, 1]
+        rules = self.in_rows(sizes)
+        names = [[name for name, _, _, _, _, _, _ in rules[1] if name[0] == sign] for sign in "abcdefg"]
+        told = [()]
+        for row in names:
+            told = [filed + tuple(row[:many]) for filed in told for many in range(len(row) + 1)]
+        self.assertEqual(reached_states(rules), sorted((filed, (), False) for filed in told))
+        self.assertEqual(len(told), 2000)
+        self.assertEqual(course_to(rules, "cd"), [("file", "court", name) for name in ("ca", "cb", "cc", "cd")])
+        self.assertEqual(course_to(rules, "ga"), [("file", "court", "ga")])
+        self.assertIsNone(dead_course(rules))
+        rules = self.in_rows([1, 1, 1, 1, 1, 2, 2, 6])
+        for ask in (lambda: reached_states(rules), lambda: course_to(rules, "hf"), lambda: dead_course(rules)):
+            with self.assertRaises(TooMuch):
+                ask()
+
+    def test_moves_lead_from_state_to_state(self):
+        # Each state that is told follows from another one by a move, and what follows is told.
+        dice = random.Random(5020)
+        many = 0
+        for _ in range(60):
+            rules = makers.rule_book(dice)
+            try:
+                found = reached_states(rules)
+            except TooMuch:
+                continue
+            if len(found) > 150:
+                continue
+            many += 1
+            behind = [after(rules, state, move) for state in found for move in loose_moves(rules, state)]
+            self.assertEqual(sorted(set(behind) | {FIRST}), found)
+        self.assertGreater(many, 20)
+
+    def test_needs_that_cannot_hold(self):
+        # Filed and free at once, barred by what it needs, and a duty that nothing opens.
+        claim, note = kind("claim"), kind("note", needs=(("filed", "claim"), ("free", "claim")))
+        self.assertIsNone(course_to(book(claim, note), "note"))
+        note = kind("note", needs=(("filed", "claim"),))
+        self.assertIsNone(course_to(book(kind("claim", bars=("note",)), note), "note"))
+        self.assertEqual(course_to(book(claim, note), "note"), [("file", "plaintiff", "claim"), ("file", "plaintiff", "note")])
+        for word in ("waiting", "open", "overdue", "lapsed", "done"):
+            rules = book(claim, kind("note", needs=((word, "answer"),), does=("answer",)))
+            self.assertIsNone(course_to(rules, "note"))
+            self.assertEqual(len(reached_states(rules)), 2)
+
+    def test_nothing_at_first(self):
+        for needs in ((("filed", "claim"),), (("open", "answer"),), (("done", "answer"), ("filed", "claim"))):
+            rules = book(kind("claim", needs=needs, opens=(("answer", ""),)))
+            self.assertEqual((reached_states(rules), course_to(rules, "claim"), dead_course(rules)), ([FIRST], None, []))
+        rules = book(kind("claim", needs=(("free", "claim"),)))
+        self.assertEqual((len(reached_states(rules)), dead_course(rules)), (2, [("file", "plaintiff", "claim")]))
+
+
 def play(rules, told, deeds):
     """The docket with these deeds."""
     return docket_of(rules, told, [(at, day, day, deed) for at, (day, deed) in enumerate(deeds)])
