@@ -29,20 +29,20 @@ def act(registry, deed):
         return spend(registry, deed)
     if word == "hearing":
         return put_on_list(registry, deed)
-    return registry.lists.take_away(deed[1], registry.today, deed[2])
+    return registry.lists.take_away(deed[1], registry.day_now, deed[2])
 
 
 def go_on(registry, day):
     """Makes a later day today; on the way, it is entered what the papers ask for that are served."""
-    many = registry.docket.many()
-    on_the_way = [served for _, _, served in registry.papers.served(day) if served > registry.today]
+    many = registry.court_docket.many()
+    on_the_way = [served for _, _, served in registry.papers.served(day) if served > registry.day_now]
     try:
         for other in sorted({served: True for served in on_the_way}):
             registry.settle(other)
     except TooMuch:
         registry.cut(many)
         raise
-    registry.today = day
+    registry.day_now = day
 
 
 def begin(registry, deed):
@@ -51,23 +51,23 @@ def begin(registry, deed):
     if cause in registry.records:
         raise Refused("a cause with this name was begun")
     judge, cards = deal(registry.wheel, registry.cards, barred, draw)
-    number = registry.docket.enter(registry.today, held, ("begin", cause, parties))
+    number = registry.court_docket.enter(registry.day_now, held, ("begin", cause, parties))
     registry.cards = cards
-    registry.records[cause] = Record(registry.today, number, parties, worth, judge)
+    registry.records[cause] = Record(registry.day_now, number, parties, worth, judge)
     return number
 
 
 def enter(registry, deed):
     """Makes an entry, and what the papers that are served ask for by it."""
-    many = registry.docket.many()
+    many = registry.court_docket.many()
     if deed[0] in CORRECTING:
         if deed[1] in registry.own:
             raise Refused("the office has made this entry by itself")
-        number = registry.docket.enter(registry.today, registry.today, deed)
+        number = registry.court_docket.enter(registry.day_now, registry.day_now, deed)
     else:
-        number = registry.docket.enter(registry.today, deed[1], deed[:1] + deed[2:])
+        number = registry.court_docket.enter(registry.day_now, deed[1], deed[:1] + deed[2:])
     try:
-        registry.settle(registry.today)
+        registry.settle(registry.day_now)
     except TooMuch:
         registry.cut(many)
         raise
@@ -77,11 +77,11 @@ def enter(registry, deed):
 def tell(registry, deed):
     """Notes that something happened to a paper today."""
     _, number, party, word, whom = deed
-    many = registry.docket.many()
-    paper = registry.papers.paper(number, registry.filing(number, registry.today)[1], party)
-    paper.tell((registry.today, word, whom))
+    many = registry.court_docket.many()
+    paper = registry.papers.paper(number, registry.filing(number, registry.day_now)[1], party)
+    paper.tell((registry.day_now, word, whom))
     try:
-        registry.settle(registry.today)
+        registry.settle(registry.day_now)
     except TooMuch:
         paper.forget()
         registry.cut(many)
@@ -93,14 +93,14 @@ def give_heads(registry, deed):
     record = registry.records[deed[1]]
     if record.since is not None:
         raise Refused("the cause has got heads before")
-    record.since = registry.today
+    record.since = registry.day_now
     record.heads, record.sides, record.allowances = deed[2:]
 
 
 def move(registry, deed):
     """Makes a move in the matter of a cause, and returns its answer."""
-    today = registry.today
-    course = registry.course(deed[1], today)
+    today = registry.day_now
+    course = registry.course_of(deed[1], today)
     answer = None
     if deed[0] == "judge":
         answer = course.judge(today, deed[2], deed[3])
@@ -117,18 +117,18 @@ def spend(registry, deed):
     record = registry.records[deed[1]]
     if len(record.spent) >= MOST_EXPENSES:
         raise TooMuch("too many expenses in a cause")
-    record.spent.append((registry.today, deed[2:]))
+    record.spent.append((registry.day_now, deed[2:]))
 
 
 def put_on_list(registry, deed):
     """Puts a cause on the list of a day."""
     _, day, cause, length, first, behind = deed
-    listed = registry.lists.hearings(day, registry.today)
-    if registry.lists.has(day, registry.today, cause):
+    listed = registry.lists.hearings(day, registry.day_now)
+    if registry.lists.has(day, registry.day_now, cause):
         raise Refused("the cause is on this list")
     if len(listed) >= MOST_HEARINGS:
         raise TooMuch("too many hearings on a list")
-    hearing = (cause, registry.records[cause].judge, length, first, behind)
+    hearing = (cause, registry.records[cause].judge_name, length, first, behind)
     if lack(registry.bench, day, listed + [hearing]) is not None:
         raise Refused("the list would have a lack")
-    registry.lists.put(day, registry.today, hearing)
+    registry.lists.put(day, registry.day_now, hearing)

@@ -1,47 +1,39 @@
 """What a deed asks for, ahead of being done: days that may be told, and what it names."""
 
-from docketloom.charter import HELD, MOVES
+from docketloom.charter import HELD
 from docketloom.errors import NotThere, OutOfRange
-from docketloom.rulebook import duty_rule, kind_rule
 
 
 def check_days(registry, deed):
     """Raises OutOfRange if a day of the deed may not be told today."""
     word = deed[0]
     day = deed[2] if word == "amend" else deed[1]
-    if word in HELD + ("amend",) and day > registry.today:
+    if word in HELD + ("amend",) and day > registry.day_now:
         raise OutOfRange("later than today")
-    if word == "pass" and day <= registry.today:
+    if word == "pass" and day <= registry.day_now:
         raise OutOfRange("not later than today")
-    if word in ("hearing", "unlist") and day < registry.today:
+    if word in ("hearing", "unlist") and day < registry.day_now:
         raise OutOfRange("before today")
 
 
 def check_named(registry, deed):
-    """Raises NotThere if something that the deed names is not there."""
+    """Raises NotThere if something that the deed names is not there.
+
+    What the entries of the docket name is looked at when they are entered, and the heads of moves when these are made.
+    """
     word = deed[0]
-    if word in ("strike", "amend"):
-        registry.docket.entry(deed[1])
-    elif word == "lift":
-        registry.docket.entry(deed[2])
-    elif word == "file":
-        kind_rule(registry.docket.book, deed[4])
-    elif word == "leave":
-        duty_rule(registry.docket.book, deed[4])
-    elif word == "event":
-        cause = registry.filing(deed[1], registry.today)[3][1]
-        check_parties(registry.record(cause, registry.today), (deed[2],))
+    if word == "event":
+        cause = registry.filing(deed[1], registry.day_now)[3][1]
+        check_parties(registry.record(cause, registry.day_now), (deed[2],))
     elif word == "heads":
-        check_parties(registry.record(deed[1], registry.today), deed[3])
+        check_parties(registry.record(deed[1], registry.day_now), deed[3])
     elif word == "expense":
-        record = registry.record_with_heads(deed[1], registry.today)
+        record = registry.record_with_heads(deed[1], registry.day_now)
         check_parties(record, (deed[2],))
         check_heads(record, deed[4])
-    elif word in MOVES:
-        check_heads(registry.record_with_heads(deed[1], registry.today), (deed[2],))
     elif word in ("hearing", "unlist"):
-        registry.record(deed[2], registry.today)
-        if word == "unlist" and not registry.lists.has(deed[1], registry.today, deed[2]):
+        registry.record(deed[2], registry.day_now)
+        if word == "unlist" and not registry.lists.has(deed[1], registry.day_now, deed[2]):
             raise NotThere("not on the list")
 
 

@@ -49,7 +49,7 @@ def made_replies(walk, state, asked):
 def least_reply(walk, places, move):
     """The least lawful dealing whose next morning is there and not lost, and this morning."""
     filed, absent = move
-    due = walk.track.due(places, filed)
+    due = walk.track.must_hear(places, filed)
     for dealing, heard in walk.track.hearers.choices(absent, walk.track.can_be_heard(places, filed)):
         if is_none_more(due, heard):
             behind = walk.track.behind(places, filed, absent, heard)
@@ -76,7 +76,7 @@ def least_shown(walk, state, asked):
     rank = walk.lost[state]
     places = walk.track.places(state)
     for move in asked:
-        bounds = (walk.track.due(places, move[0]), walk.track.can_be_heard(places, move[0]))
+        bounds = (walk.track.must_hear(places, move[0]), walk.track.can_be_heard(places, move[0]))
         mornings = walk.track.best(places, move[0], move[1], bounds)
         if all([walk.lost.get(behind, rank) < rank for behind in mornings]):
             return move
@@ -133,7 +133,7 @@ def morning_of(track, places, move, dealing):
     heard = track.hearers.lawful(absent).get(dealing)
     if heard is None or not is_none_more(heard, track.can_be_heard(places, filed)):
         return None
-    if not is_none_more(track.due(places, filed), heard):
+    if not is_none_more(track.must_hear(places, filed), heard):
         return None
     return track.behind(places, filed, absent, heard)
 
@@ -158,7 +158,7 @@ def shuts(promise, trap):
 def mornings_of(track, places, move):
     """The list of the next states behind all lawful dealings by which the day does not fall."""
     filed, absent = move
-    due = track.due(places, filed)
+    due = track.must_hear(places, filed)
     choices = track.hearers.choices(absent, track.can_be_heard(places, filed))
     return [track.behind(places, filed, absent, heard) for _, heard in choices if is_none_more(due, heard)]
 

@@ -6,7 +6,7 @@ from docketloom.walking import Walk
 def reached(promise):
     """The ascending list of the states that can be reached."""
     walk = Walk(promise)
-    return sorted([walk.track.told(state) for state in walk.states])
+    return sorted([walk.track.told(state) for state in walk.numbers])
 
 
 def lost_states(promise):

@@ -18,9 +18,9 @@ class Lane:
         self._heard_bits = HEARD_BITS * at
         self.met = []
         self._parts = {}
-        self._steps = {}
+        self._step_parts = {}
         self._ways = {}
-        self._filings = {}
+        self._numbers_filed = {}
         self.part((0,) * term, (0,) * (self.window - 1))
 
     def part(self, waiting, past):
@@ -35,7 +35,7 @@ class Lane:
         """The most causes that can be filed."""
         return self._most - sum(self.met[place][1])
 
-    def due(self, place, filed):
+    def must_hear(self, place, filed):
         """How many causes have to be heard, lest the day falls."""
         return filed if self.term == 0 else self.met[place][0][0]
 
@@ -43,30 +43,30 @@ class Lane:
         """How many causes can be heard, if all hearers are there."""
         return min(self.hearers, sum(self.met[place][0]) + filed)
 
-    def filings(self, place):
+    def numbers_filed(self, place):
         """The triples (filed, due, can be heard) of the numbers that can be filed and need be looked at."""
-        if place not in self._filings:
+        if place not in self._numbers_filed:
             most = self.room(place)
             # Where no past tells later how many were filed, the most are the worst.
             least = most if self.window == 1 else 0
-            self._filings[place] = [(filed, self.due(place, filed), self.can_be_heard(place, filed))
+            self._numbers_filed[place] = [(filed, self.must_hear(place, filed), self.can_be_heard(place, filed))
                                     for filed in range(least, most + 1)]
-        return self._filings[place]
+        return self._numbers_filed[place]
 
     def step(self, place, filed, heard):
         """The part of the next place, when so many are filed and heard: not fewer than are due, not more than wait."""
         key = (place, filed, heard)
-        if key not in self._steps:
+        if key not in self._step_parts:
             waiting, past = self.met[place]
-            self._steps[key] = self.part(behind_hearing(waiting + (filed,), heard)[1:], later(past, filed))
-        return self._steps[key]
+            self._step_parts[key] = self.part(behind_hearing(waiting + (filed,), heard)[1:], later(past, filed))
+        return self._step_parts[key]
 
     def ways(self, place):
         """The pairs (part of a next place, the fewest heard causes by which it is reached, packed)."""
         if place not in self._ways:
             found = {}
             for filed in range(self.room(place) + 1):
-                for heard in range(self.due(place, filed), self.can_be_heard(place, filed) + 1):
+                for heard in range(self.must_hear(place, filed), self.can_be_heard(place, filed) + 1):
                     behind = self.step(place, filed, heard)
                     found[behind] = min(heard, found.get(behind, heard))
             self._ways[place] = [(behind, heard << self._heard_bits) for behind, heard in found.items()]

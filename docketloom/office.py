@@ -26,14 +26,14 @@ class Office:
             raise Malformed("no deed")
         check_days(self._registry, deed)
         check_named(self._registry, deed)
-        today = self._registry.today
+        today = self._registry.day_now
         answer = act(self._registry, deed)
         self._log.append((today, deed))
         return answer
 
     def today(self):
         """The day that is today."""
-        return self._registry.today
+        return self._registry.day_now
 
     def log(self):
         """The list of the pairs (today, deed) of all deeds that were done."""
@@ -41,21 +41,20 @@ class Office:
 
     def docket(self):
         """A docket with the same entries."""
-        return self._registry.docket.twin()
+        return self._registry.court_docket.twin()
 
     def judge_for(self, cause):
         """The name of the judge to whom the cause was dealt."""
-        return self._registry.record(cause, self._registry.today).judge
+        return self._registry.record(cause, self._registry.day_now).judge_name
 
     def dealt_to(self, cause, k):
         """The judge to whom a cause was dealt that was begun by a deed up to the day k."""
-        self.check_known(k)
-        return self._registry.record(cause, k).judge
+        return self._registry.record(cause, k).judge_name
 
     def check_known(self, k):
         """Raises OutOfRange if k is no day, or later than today."""
         check_day(k)
-        if k > self._registry.today:
+        if k > self._registry.day_now:
             raise OutOfRange("later than today")
 
     def served(self, number, party, k):
@@ -65,7 +64,6 @@ class Office:
 
     def paper(self, number, party, k):
         """The service of a filing, as its calendar, manner and powers tell, and the events for the party up to k."""
-        self.check_known(k)
         serving = self._registry.papers.serving(self._registry.filing(number, k)[1])
         return serving, self._registry.papers.events(number, party, k)
 
@@ -98,7 +96,7 @@ class Office:
         """The list of the pairs (number, fee) of the filings that stand in the cause as known on k."""
         self.check_known(k)
         record = self._registry.record(cause, k)
-        stage = self._registry.stage(k)
+        stage = self._registry.scene_on(k)
         if cause not in stage.causes():
             return []
         days = {number: day for number, day in self._registry.rows(k)}

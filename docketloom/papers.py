@@ -10,24 +10,24 @@ class Paper:
     def __init__(self, serving, party):
         self._serving = serving
         self._party = party
-        self._told = []
+        self._noted = []
         self._served = None
 
     def tell(self, event):
         """Notes an event."""
-        if len(self._told) >= MOST_EVENTS:
+        if len(self._noted) >= MOST_EVENTS:
             raise TooMuch("too many events of a paper")
-        self._told.append(event)
+        self._noted.append(event)
         self._work_out()
 
     def forget(self):
         """Takes the last event back."""
-        self._told.pop()
+        self._noted.pop()
         self._work_out()
 
     def _work_out(self):
-        """Finds the day on which the paper is served."""
-        self._served = self._serving.served_on(self._party, tuple(sorted(self._told)))
+        """Finds the day on which the paper is served; for this the order of the events of a day does not matter."""
+        self._served = self._serving.served_on(self._party, tuple(self._noted))
 
     def served(self):
         """The day on which the paper is served by all events, or None."""
@@ -35,7 +35,7 @@ class Paper:
 
     def events(self, k):
         """The events that were told up to the day k, in their order."""
-        return tuple(sorted([event for event in self._told if event[0] <= k]))
+        return tuple(sorted([event for event in self._noted if event[0] <= k]))
 
 
 class Papers:

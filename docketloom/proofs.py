@@ -21,8 +21,8 @@ def shows_by(serving, party, events, proof):
         return False
     told, deed, whom = events[number]
     if deed == "door":
-        return chain == () and type(chain) is tuple and are_tries(serving, party, events, told, tries)
-    if tries != () or type(tries) is not tuple:
+        return chain == () and are_tries(serving, party, events, told, tries)
+    if tries != ():
         return False
     return is_chain_of(serving.powers, party, whom, told, serving.longest, chain)
 
@@ -63,4 +63,4 @@ def least_tries(serving, party, events, day):
         weekday = weekday_of(events[number][0])
         if weekday not in first:
             first[weekday] = number
-    return tuple(sorted(list(first.values()))[:serving.many_tries])
+    return tuple(list(first.values())[:serving.many_tries])

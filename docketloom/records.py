@@ -10,7 +10,7 @@ class Record:
         self.number = number
         self.parties = [party for party, _ in parties]
         self.worth = worth
-        self.judge = judge
+        self.judge_name = judge
         # The day on which the cause got heads, and these heads, the sides and the allowances.
         self.since = None
         self.heads = ()
@@ -55,11 +55,11 @@ class Lists:
     """The lists of all days."""
 
     def __init__(self):
-        self._told = {}
+        self._days = {}
 
     def hearings(self, day, k):
         """The list of the day as known on k, ascending by the names."""
-        return sorted([told.hearing for told in self._told.get(day, []) if told.is_known(k)])
+        return sorted([told.hearing for told in self._days.get(day, []) if told.is_known(k)])
 
     def has(self, day, k, cause):
         """True if the cause is on the list of the day as known on k."""
@@ -67,10 +67,10 @@ class Lists:
 
     def put(self, day, today, hearing):
         """Puts a hearing on the list of a day."""
-        self._told.setdefault(day, []).append(Told(today, hearing))
+        self._days.setdefault(day, []).append(Told(today, hearing))
 
     def take_away(self, day, today, cause):
         """Takes a cause off the list of a day."""
-        for told in self._told[day]:
+        for told in self._days[day]:
             if told.hearing[0] == cause and told.until is None:
                 told.until = today

@@ -22,8 +22,8 @@ class Registry:
         self.cost_rule = rule
         self.wheel = wheel
         self.bench = bench
-        self.today = 0
-        self.docket = Docket(book, regimes)
+        self.day_now = 0
+        self.court_docket = Docket(book, regimes)
         # The numbers of the entries that the office has made by itself.
         self.own = []
         # The cards that are left on the wheel.
@@ -31,12 +31,12 @@ class Registry:
         self.records = {}
         self.papers = Papers(regimes, manner, powers)
         self.lists = Lists()
-        self._now = Playing(self.docket)
-        self._then = Playing(self.docket)
+        self._now = Playing(self.court_docket)
+        self._then = Playing(self.court_docket)
 
     def filing(self, number, k):
         """The entry of a filing that was entered up to the day k. Raises NotThere."""
-        entry = self.docket.entry(number)
+        entry = self.court_docket.entry(number)
         if entry[3][0] != "file" or entry[1] > k:
             raise NotThere("no such filing")
         return entry
@@ -57,11 +57,11 @@ class Registry:
 
     def rows(self, k):
         """The list of the rows known on k whose days are not later than k."""
-        return [row for row in self.docket.rows(k) if row[1] <= k]
+        return [row for row in self.court_docket.rows(k) if row[1] <= k]
 
-    def stage(self, k):
+    def scene_on(self, k):
         """The scene behind the rows known on k whose days are not later than k; it is to be read only."""
-        play = self._then if k < self.today else self._now
+        play = self._then if k < self.day_now else self._now
         play.go_on(self.rows(k))
         return play.stage
 
@@ -70,14 +70,14 @@ class Registry:
         entered = self.filing(number, k)[1]
         return self.papers.serving(entered).known_on(party, self.papers.events(number, party, k), k)
 
-    def stays(self, cause, k):
+    def stays_of(self, cause, k):
         """The stays that touch the cause, as known on k."""
-        return tuple([stay for stay in self.stage(k).stays() if stay[0] == "all" or stay[:2] == ("cause", cause)])
+        return tuple([stay for stay in self.scene_on(k).stays() if stay[0] == "all" or stay[:2] == ("cause", cause)])
 
-    def course(self, cause, k):
+    def course_of(self, cause, k):
         """The course of the heads of a cause as known on k. Raises NotThere."""
         record = self.record_with_heads(cause, k)
-        clock = Clock(self.ladder, self.docket.almanac, union_of(self.stays(cause, k)))
+        clock = Clock(self.ladder, self.court_docket.almanac, union_of(self.stays_of(cause, k)))
         course = Course(top(self.ladder), self.ladder[2], record.heads, record.allowances, clock)
         make_all(course, record.moves(k))
         return course
@@ -85,14 +85,15 @@ class Registry:
     def matter(self, cause, k):
         """The matter of a cause as known on k. Raises NotThere."""
         record = self.record_with_heads(cause, k)
-        matter = Matter(self.ladder, record.heads, record.allowances, self.docket.regimes, self.stays(cause, k))
+        regimes = self.court_docket.regimes
+        matter = Matter(self.ladder, record.heads, record.allowances, regimes, self.stays_of(cause, k))
         make_all(matter.course, record.moves(k))
         return matter
 
     def judgment(self, cause, k):
         """The judgment of a cause as known on k. Raises NotThere."""
         sides = self.record_with_heads(cause, k).sides
-        course = self.course(cause, k)
+        course = self.course_of(cause, k)
         values = [(head, value) for (head, _, _), value in zip(course.heads, course.ending()) if value is not None]
         return tuple(sorted([(head, sides[value], sides[1 - value]) for head, value in values]))
 
@@ -101,11 +102,11 @@ class Registry:
         papers = self.papers.served(day)
         if len(papers) == 0:
             return None
-        stage = self.stage(day)
+        stage = self.scene_on(day)
         begun = stage.causes()
         days = {number: told for number, told in self.rows(day)}
         for number, party, served in papers:
-            cause = self.docket.entry(number)[3][1]
+            cause = self.court_docket.entry(number)[3][1]
             duties = stage.duties(cause, day) if cause in begun else []
             found = [row[2] for row in duties if row[:2] == (number, party) and row[3] == "waiting"]
             if len(found) > 0:
@@ -116,16 +117,16 @@ class Registry:
         """Enters what the papers that are served as known on the day ask for, as if this day were today."""
         waiting = self.least_waiting(day)
         while waiting is not None:
-            self.own.append(self.docket.enter(day, waiting[0], waiting[1]))
+            self.own.append(self.court_docket.enter(day, waiting[0], waiting[1]))
             waiting = self.least_waiting(day)
 
     def cut(self, many):
         """Takes all entries but the first ones back."""
-        self.docket.cut(many)
+        self.court_docket.cut(many)
         self.own = [number for number in self.own if number < many]
         # Rows of these numbers may come to be others.
-        self._now = Playing(self.docket)
-        self._then = Playing(self.docket)
+        self._now = Playing(self.court_docket)
+        self._then = Playing(self.court_docket)
 
 
 def make_all(course, moves):

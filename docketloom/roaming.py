@@ -165,7 +165,7 @@ class Roads:
     def _find(self):
         """Finds all states."""
         signs = self._signs
-        filings = signs.filings
+        filings = signs.filing_rows
         places = self._places
         known = {0: True}
         at = 0
@@ -174,7 +174,7 @@ class Roads:
             if not code & signs.ended:
                 for role, kind, rule, filed, _, wide, once, needs in filings:
                     if code & wide == filed and (not needs or is_ready(code, needs)):
-                        behind = code | once if once else signs.filed(code, role, rule)
+                        behind = code | once if once else signs.behind_filing(code, role, rule)
                         if behind not in known:
                             known[behind] = True
                             places.append((behind, at, ("file", role, kind)))
@@ -215,7 +215,7 @@ class Roads:
 
     def _is_alive(self, code):
         """True if a kind can be filed in the state."""
-        for _, _, _, filed, mask, _, _, needs in self._signs.filings:
+        for _, _, _, filed, mask, _, _, needs in self._signs.filing_rows:
             if code & mask == filed and (not needs or is_ready(code, needs)):
                 return True
         return False

@@ -55,7 +55,7 @@ class Signs:
             self._places[pair] = place
             self._ones[pair[1]] = self._ones.get(pair[1], 0) | (1 << place)
             self.live |= LIVE_BITS << place
-        self.filings = self._found_filings(rules)
+        self.filing_rows = self._found_filings(rules)
         self._changes = {}
         self._quiet = None
 
@@ -91,7 +91,7 @@ class Signs:
                     by_role.setdefault(role, []).append((role, kind, rule, filed, mask, mask | once, once, asked))
         return [row for role in sorted(by_role) for row in by_role[role]]
 
-    def filed(self, code, role, rule):
+    def behind_filing(self, code, role, rule):
         """The state behind a filing that changes duties, or ends the cause."""
         key = (role, rule[0])
         if key not in self._changes:

@@ -36,9 +36,9 @@ class Track:
         """The most judges who can be absent."""
         return min(self._judges, self.away.room(places[-1]))
 
-    def due(self, places, filed):
+    def must_hear(self, places, filed):
         """How many causes of each kind have to be heard, lest the day falls."""
-        return tuple([lane.due(place, many) for lane, place, many in zip(self.lanes, places, filed)])
+        return tuple([lane.must_hear(place, many) for lane, place, many in zip(self.lanes, places, filed)])
 
     def can_be_heard(self, places, filed):
         """How many causes of each kind can be heard, if all judges are there."""

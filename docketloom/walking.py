@@ -17,9 +17,9 @@ class Walk:
         if many_moves(promise, start_state(promise)) > MOST_MOVES:
             raise TooMuch("too many moves")
         self.track = Track(promise)
-        self.states = [0]
+        self.numbers = [0]
         self._find()
-        self.lost = {state: 0 for state in self.states if self._falls_at_once(state)}
+        self.lost = {state: 0 for state in self.numbers if self._falls_at_once(state)}
         if len(self.lost) > 0:
             self._spread()
 
@@ -27,12 +27,13 @@ class Walk:
         """Finds all states."""
         known = {0: True}
         at = 0
-        while at < len(self.states):
-            for behind in self._followers(self.states[at]):
+        while at < len(self.numbers):
+            found = self._followers(self.numbers[at])
+            for behind in found:
                 if behind not in known:
                     known[behind] = True
-                    self.states.append(behind)
-            if len(self.states) > MOST_STATES:
+                    self.numbers.append(behind)
+            if len(self.numbers) > MOST_STATES:
                 raise TooMuch("too many states")
             at += 1
 
@@ -56,7 +57,7 @@ class Walk:
         """True if there is a move to which all lawful dealings fall."""
         track = self.track
         places = track.places(state)
-        due = packed(track.due(places, [lane.room(place) for lane, place in zip(track.lanes, places)]))
+        due = packed(track.must_hear(places, [lane.room(place) for lane, place in zip(track.lanes, places)]))
         absents = track.hearers.worst(track.most_absent(places))
         return any([due not in track.hearers.can_hear(absent) for absent in absents])
 
@@ -65,8 +66,8 @@ class Walk:
         owners = []
         left = []
         before = {}
-        for state in [state for state in self.states if state not in self.lost]:
-            for row in self._rows(state):
+        for state in [state for state in self.numbers if state not in self.lost]:
+            for row in self._rows_of(state):
                 for behind in row:
                     before.setdefault(behind, []).append(len(owners))
                 owners.append(state)
@@ -83,14 +84,14 @@ class Walk:
                     found.append(owners[number])
             level = found
 
-    def _rows(self, state):
+    def _rows_of(self, state):
         """For each move that need be looked at, the list of the best states that can be made to follow it."""
         track = self.track
         places = track.places(state)
         filings = [((), (), ())]
         for lane, place in zip(track.lanes, places):
             filings = [(filed + (new,), due + (least,), waiting + (most,)) for filed, due, waiting in filings
-                       for new, least, most in lane.filings(place)]
+                       for new, least, most in lane.numbers_filed(place)]
         most = track.most_absent(places)
         # Without a past of the absences, the most absent judges are the worst.
         least = most if track.away.window == 1 else 0

@@ -242,6 +242,46 @@ class Holding(unittest.TestCase):
         self.assertIs(holds(CHARTER, log, (question, hearings[::-1], lack)), False)
         self.assertIs(holds(CHARTER, log, (question, tuple(hearings), lack)), False)
 
+    def test_lists(self):
+        office = some_office()
+        # The hearing stands in its place by name; a cause that is on the list, and a full list, have no certificate.
+        for deed in (("begin", 12, "abc", (), 0, ("bea",), 0), ("hearing", 14, "two", 8, 0, 8)):
+            office.do(deed)
+        question = ("full", 14, "abc", 1, 0, 16, 12)
+        certificate = certify(office, question)
+        self.assertEqual(certificate[1], [("abc", "ann", 1, 0, 16), ("two", "ann", 8, 0, 8)])
+        self.assertIs(holds(CHARTER, office.log(), certificate), True)
+        for answer, lack in ((None, ("two",)), (office.hearings(14, 12), ("two",)), (None, None), ([], ())):
+            self.assertIs(holds(CHARTER, office.log(), (("full", 14, "two", 9, 0, 16, 12), answer, lack)), False)
+            self.assertIs(holds(CHARTER, office.log(), (("full", 14, "one", 1, 9, 16, 12), answer, lack)), False)
+        bench = (tuple((name, (), ((0, 1, 2, 3, 4, 5, 6), 0, 16, ())) for name in ("ann", "bea", "cid")), ())
+        charter = CHARTER[:7] + ((("ann", 1), ("bea", 1), ("cid", 1)), (bench[0], tuple((name, ((0, 1, 2, 3, 4, 5, 6), 0, 16, ())) for name in ("a", "b"))))
+        office = Office(charter)
+        names = [one + other for one in "abcde" for other in "abcde"]
+        for at, name in enumerate(names):
+            office.do(("begin", 0, name, (), 0, tuple(judge for judge in ("ann", "bea", "cid") if judge != ("ann", "bea", "cid")[at % 3]), 0))
+        for name in names[:23]:
+            office.do(("hearing", 5, name, 1, 0, 16))
+        question = ("full", 5, names[24], 16, 0, 1, 0)
+        certificate = certify(office, question)
+        self.assertIs(holds(charter, office.log(), certificate), True)
+        office.do(("hearing", 5, names[23], 1, 0, 16))
+        self.assertIsNone(certify(office, question))
+        self.assertIs(holds(charter, office.log(), certificate), False)
+        told = sorted(office.hearings(5, 0) + [(names[24], office.judge_for(names[24]), 16, 0, 1)])
+        self.assertIs(holds(charter, office.log(), (question, told, (names[24],))), False)
+
+    def test_calendar_of_the_filing(self):
+        # The regime of the day on which the filing was entered counts, not the one of the day for which it holds.
+        later = (((), (), (), ()), CHARTER[1][1][0][1][1])
+        charter = CHARTER[:1] + (("old", CHARTER[1][1] + ((20, later),)),) + CHARTER[2:]
+        office = Office(charter)
+        for deed in (("pass", 20), ("begin", 19, "one", ROLES, 0, (), 0), ("file", 19, "one", "pam", "claim"), ("pass", 21), ("event", 1, "bob", "hand", "bob")):
+            office.do(deed)
+        certificate = certify(office, ("served", 1, "bob", 21))
+        self.assertEqual(certificate, (("served", 1, "bob", 21), 21, (21, 0, (), ())))
+        self.assertIs(holds(charter, office.log(), certificate), True)
+
     def test_what_was_known(self):
         # The certificates of a day hold for longer logs, and not for shorter ones.
         office = some_office()

@@ -135,6 +135,18 @@ class TooMany(unittest.TestCase):
         self.assertEqual(len(reached(Promise(4, rows, (3, 1)))), 1)
         rows = [(ALL, 0, 8, 1), (ALL, 0, 8, 1), (ALL, 0, 4, 1)]
         self.too_much(Promise(4, rows, (3, 1)))
+        # 9 * 8 * 8 * 7 is 4032.
+        self.too_much(Promise(4, [(ALL, 0, count, 1) for count in (8, 7, 7, 6)], (0, 1)))
+
+    def test_more_due_than_judges(self):
+        for judges in (1, 2, 3, 4):
+            rights = tuple(range(judges))
+            for count in range(1, 9):
+                for term in (0, 1):
+                    promise = Promise(judges, [(rights, term, count, 1)], (0, 1))
+                    self.assertIs(can_keep(promise), count <= judges)
+                    self.assertEqual(len(reached(promise)), 1 if term == 0 else count + 1)
+                self.assertIs(can_keep(Promise(judges, [(rights, 1, count, 2)], (0, 1))), count <= 2 * judges)
 
     def test_many_states(self):
         # Where no judge may hear them, causes of a term of one day wait: 9 * 9 * 8 * 6 is 3888 states.
@@ -199,6 +211,20 @@ class Closing(unittest.TestCase):
                         self.assertIs(closes(promise, told), behind is not None and behind in known)
                         others += other != dealing
             self.assertGreater(others, 20)
+
+    def test_dealings_that_are_not_lawful(self):
+        for promise in (KEPT, Promise(2, [((0, 1), 2, 1, 2)], (1, 2))):
+            book = made_book(promise)
+            every = [(one, other) for one in range(-2, 3) for other in range(-2, 3)]
+            tried = 0
+            for at, (state, replies) in enumerate(book):
+                for place, (move, _) in enumerate(replies):
+                    lawful = slow_dealings(promise, state, move)
+                    for dealing in [row for row in every if row not in lawful]:
+                        told = book[:at] + [(state, replies[:place] + [(move, dealing)] + replies[place + 1:])] + book[at + 1:]
+                        self.assertIs(closes(promise, told), False)
+                        tried += 1
+            self.assertGreater(tried, 300)
 
     def test_any_kind(self):
         for value in ODD:

@@ -391,6 +391,25 @@ class Service(unittest.TestCase):
         with self.assertRaises(NotThere):
             office.served(0, "bob", 10)
 
+    def test_in_the_order_of_days(self):
+        office = self.claim(("pass", 9), ("event", 1, "dan", "post", "dan"), ("pass", 10), ("event", 1, "bob", "post", "bob"), ("pass", 30))
+        self.assertEqual([row[:2] + (row[2][2],) for row in self.served_entries(office)], [(12, 12, "dan"), (13, 13, "bob")])
+
+    def test_two_duties_of_one_filing(self):
+        # A book in which the defendant has to answer and to reply: both duties wait for one paper.
+        book = (BOOK[0], (("claim", ("plaintiff",), (), (), (("answer", "defendant"), ("reply", "defendant")), (), False),))
+        office = Office((book,) + CHARTER[1:])
+        for deed in (("pass", 10), ("begin", 10, "one", ROLES, 0, (), 0), ("file", 10, "one", "pam", "claim"), ("event", 1, "bob", "hand", "bob")):
+            office.do(deed)
+        self.assertEqual([row[2][2:] for row in self.served_entries(office)], [("bob", "answer"), ("bob", "reply")])
+        while len(office.docket().entries()) < 499:
+            office.do(("lift", 10, 0))
+        kept = told_by(office)
+        with self.assertRaises(TooMuch):
+            office.do(("event", 1, "dan", "hand", "dan"))
+        self.assertEqual(told_by(office), kept)
+        self.assertEqual(office.do(("lift", 10, 0)), 499)
+
     def test_own_entries(self):
         office = self.claim(("pass", 10), ("event", 1, "bob", "hand", "bob"))
         for deed in (("strike", 2), ("amend", 2, 9)):
@@ -494,6 +513,9 @@ class Full(unittest.TestCase):
         self.check_too_much(office, ("strike", 2))
         self.assertEqual(office.do(("file", 10, "one", "pam", "claim")), 498)
         self.assertEqual(office.fees("one", 10), [(498, 190)])
+        # The number of an entry that was taken back may be that of one that is not the office's own.
+        self.assertEqual(office.do(("lift", 7, 0)), 499)
+        self.check_too_much(office, ("strike", 499))
 
     def test_stays(self):
         office = office_with()
@@ -625,6 +647,21 @@ class Known(unittest.TestCase):
         with self.assertRaises(Refused):
             office.do(("hearing", 11, "one", 1, 0, 16))
         self.assertIsNone(lack(BENCH, 11, office.hearings(11, 11)))
+
+    def test_lists_of_several_causes(self):
+        office = office_with(("pass", 9), ("begin", 9, "abc", (), 0, ("ann",), 0), ("begin", 9, "two", (), 0, ("bea",), 0), ("hearing", 12, "two", 1, 0, 9),
+                             ("hearing", 12, "one", 1, 0, 9), ("hearing", 12, "abc", 2, 0, 9), ("hearing", 13, "one", 1, 0, 9))
+        rows = [("abc", "bea", 2, 0, 9), ("one", "ann", 1, 0, 9), ("two", "ann", 1, 0, 9)]
+        self.assertEqual(office.hearings(12, 9), rows)
+        for day, cause, told in ((10, "one", [rows[0], rows[2]]), (11, "abc", rows[2:])):
+            office.do(("pass", day))
+            office.do(("unlist", 12, cause))
+            self.assertEqual(office.hearings(12, day), told)
+        office.do(("hearing", 12, "one", 5, 0, 9))
+        office.do(("pass", 12))
+        office.do(("unlist", 12, "one"))
+        self.assertEqual([len(office.hearings(12, k)) for k in (8, 9, 10, 11, 12)], [0, 3, 2, 2, 1])
+        self.assertEqual(office.hearings(13, 12), [("one", "ann", 1, 0, 9)])
 
     def test_office_of(self):
         log = [(0, ("pass", 7)), (7, ("begin", 7, "one", ROLES, 900, (), 0)), (7, ("pass", 9)), (9, ("file", 8, "one", "pam", "claim"))]
