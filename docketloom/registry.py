@@ -100,18 +100,24 @@ class Registry:
     def least_waiting(self, day):
         """The least duty that waits though its paper is served, as known on the day: its day and deed; or None."""
         papers = self.papers.served(day)
-        if len(papers) == 0:
-            return None
-        stage = self.scene_on(day)
-        begun = stage.causes()
-        days = {number: told for number, told in self.rows(day)}
+        waiting = self.waiting_duties(day) if len(papers) > 0 else {}
         for number, party, served in papers:
-            cause = self.court_docket.entry(number)[3][1]
-            duties = stage.duties(cause, day) if cause in begun else []
-            found = [row[2] for row in duties if row[:2] == (number, party) and row[3] == "waiting"]
-            if len(found) > 0:
-                return (max(served, days[number]), ("served", cause, party, min(found)))
+            if (number, party) in waiting:
+                cause, duty = waiting[(number, party)]
+                rows = {other: told for other, told in self.rows(day)}
+                return (max(served, rows[number]), ("served", cause, party, duty))
         return None
+
+    def waiting_duties(self, day):
+        """For each filing and party, as known on the day: the cause and the least duty of all that wait."""
+        stage = self.scene_on(day)
+        found = {}
+        for cause in stage.causes():
+            for opened, party, duty, state, _, _, _ in stage.duties(cause, day):
+                if state == "waiting":
+                    key = (opened, party)
+                    found[key] = min((cause, duty), found.get(key, (cause, duty)))
+        return found
 
     def settle(self, day):
         """Enters what the papers that are served as known on the day ask for, as if this day were today."""
