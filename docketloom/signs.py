@@ -60,7 +60,7 @@ class Signs:
         self._quiet = None
 
     def _found_filings(self, rules):
-        """The filings, ascending: tuples (role, kind, rule, filed, mask, wide, once, needs).
+        """The filings that need be looked at, ascending: tuples (role, kind, rule, filed, mask, wide, once, needs).
 
         The filing can be made if of the kinds under the mask just those have been filed that are in filed, and if the
         needs hold. Once is the bit of a kind that changes nothing but that it is filed, and otherwise 0; the wide mask
@@ -87,7 +87,8 @@ class Signs:
             if filed & free == 0 and 0 not in asked:
                 once = 0 if does or opens or ends else self.bits[kind]
                 mask = filed | free
-                for role in roles:
+                # What is done and opened hangs on the role; without it, what follows is the same for all roles.
+                for role in roles if does or opens else roles[:1]:
                     by_role.setdefault(role, []).append((role, kind, rule, filed, mask, mask | once, once, asked))
         return [row for role in sorted(by_role) for row in by_role[role]]
 
