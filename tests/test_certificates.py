@@ -214,6 +214,11 @@ class Holding(unittest.TestCase):
         # Another event, another chain.
         for proof, told in (((9, 0, (), ()), True), ((9, 1, (0,), ()), True), ((9, 1, (), ()), False), ((9, 0, (0,), ()), False), ((10, 0, (), ()), False)):
             self.assertIs(holds(CHARTER, log, (("served", 1, "bob", 9), 9, proof)), told)
+        # A proof that shows service on a later day.
+        office.do(("event", 1, "bob", "hand", "bob"))
+        for proof, told in (((9, 0, (), ()), True), ((12, 2, (), ()), False), ((9, 2, (), ()), False)):
+            self.assertIs(holds(CHARTER, office.log(), (("served", 1, "bob", 12), 9, proof)), told)
+            self.assertIs(holds(CHARTER, office.log(), (("served", 1, "bob", 12), 12, proof)), False)
         # A way with more moves, or with more appeals than the price says.
         question = ("may", "one", "debt", 1, 9)
         way = [(9, "appeal", "debt", None), (9, "judge", "debt", 1)]
@@ -280,6 +285,7 @@ class Holding(unittest.TestCase):
             office.do(deed)
         certificate = certify(office, ("served", 1, "bob", 21))
         self.assertEqual(certificate, (("served", 1, "bob", 21), 21, (21, 0, (), ())))
+        self.assertEqual(office.docket().entries()[2:], [(2, 21, 21, ("served", "one", "bob", "answer"))])
         self.assertIs(holds(charter, office.log(), certificate), True)
 
     def test_what_was_known(self):

@@ -568,7 +568,7 @@ class Known(unittest.TestCase):
             for k in (13, -1, 1000001, True):
                 with self.assertRaises(OutOfRange):
                     ask(k)
-        for ask in (lambda: office.turn("one", 9, 9), lambda: office.turn("one", 10, 9), lambda: office.turn("none", 9, 9), lambda: office.turn("one", 3, 2),
+        for ask in (lambda: office.turn("one", -1, 9), lambda: office.turn("one", 9, 9), lambda: office.turn("one", 10, 9), lambda: office.turn("none", 9, 9), lambda: office.turn("one", 3, 2),
                     lambda: office.hearings(1000001, 9), lambda: office.hearings(-1, 9)):
             with self.assertRaises(OutOfRange):
                 ask()
@@ -680,6 +680,8 @@ class Known(unittest.TestCase):
                 office_of(CHARTER, changed)
         with self.assertRaises(Malformed):
             office_of(None, [])
+        with self.assertRaises(Malformed):
+            office_of(CHARTER, [(False, ("pass", 7))])
 
 
 if __name__ == "__main__":
